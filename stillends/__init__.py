@@ -1,0 +1,1 @@
+"""Stillends: writing token by token within a grammar, and always ending in time."""

@@ -1,0 +1,1 @@
+"""The tests of stillends; README.md says how to run them."""

@@ -1,0 +1,96 @@
+"""The interface exists as it is written: files, names, parameters, by position or by name."""
+
+import importlib
+import inspect
+import unittest
+
+from tests.helpers import CUTS, EVEN, FREE, NEST
+
+# For each file: each function with its parameters, and values for them with the result.
+INTERFACE = {
+    "letters": (
+        ("is_letter", {"thing": "a"}, True),
+        ("is_text", {"thing": "ab"}, True),
+        ("is_number", {"thing": 3}, True),
+    ),
+    "tokenlists": (
+        ("lets_tokens", {"thing": CUTS}, 3),
+        ("row_text", {"tokens": CUTS, "row": (2, 0)}, "aba"),
+        ("is_row", {"tokens": CUTS, "thing": (2, 0)}, True),
+    ),
+    "tries": (
+        ("inner_texts", {"tokens": CUTS}, ("", "a")),
+        ("token_number", {"tokens": CUTS, "text": "ab"}, 2),
+    ),
+    "books": (
+        ("lets_book", {"tokens": CUTS, "thing": FREE}, 1),
+        ("runs", {"tokens": CUTS, "book": FREE, "row": (1,)}, 0),
+        ("takes", {"tokens": CUTS, "book": FREE, "row": (1,)}, True),
+        ("free_book", {"tokens": CUTS}, FREE),
+    ),
+    "pairbooks": (("pairs_book", {"tokens": CUTS, "pairs": ()}, FREE),),
+    "canon": (
+        ("longest_row", {"tokens": CUTS, "text": "ab"}, (2,)),
+        ("canon_book", {"tokens": ("a",)}, (1, (0,), ((0,),))),
+    ),
+    "writers": (
+        ("lets_writer", {"tokens": CUTS, "thing": EVEN}, 1),
+        ("even_writer", {"tokens": CUTS}, EVEN),
+        ("state_behind", {"tokens": CUTS, "writer": EVEN, "row": (0,)}, 0),
+    ),
+    "tapes": (
+        ("choice_of", {"tokens": CUTS, "writer": EVEN, "state": 0, "digit": 2}, 2),
+        ("says", {"tokens": CUTS, "writer": EVEN, "tape": (2, 3)}, ((2,), True, 2)),
+        ("tapes_of", {"tokens": CUTS, "writer": EVEN, "row": (2,), "budget": 2}, 4),
+    ),
+    "spellers": (
+        (
+            "speller",
+            {"tokens": ("a",), "book": (1, (0,), ((0,),)), "begun": "", "mode": "healed"},
+            (((0, 0, ""),), (0,), ((0, "a", 0, 0),)),
+        ),
+        ("place_behind", {"tokens": CUTS, "book": FREE, "begun": "a", "mode": "healed", "row": (2,)}, (1, 0, "")),
+        (
+            "priced",
+            {"tokens": ("a",), "book": (1, (0,), ((0,),)), "begun": "", "mode": "healed"},
+            (1, ((0, "a", 0, 1),)),
+        ),
+    ),
+    "grammars": (("lets_grammar", {"thing": NEST}, 2),),
+    "trees": (
+        ("lets_tree", {"grammar": NEST, "thing": (1, 0)}, 0),
+        ("kids", {"grammar": NEST, "tree": (1, 0)}, ((0,),)),
+        ("grafted", {"grammar": NEST, "rule": 1, "kids": ((0,),)}, (1, 0)),
+        ("is_of_grammar", {"grammar": NEST, "thing": (1, 0)}, True),
+    ),
+    "treetexts": (
+        ("tree_text", {"grammar": NEST, "tree": (1, 0)}, "ab"),
+        ("spans", {"grammar": NEST, "tree": (1, 0)}, ((0, 2), (1, 1))),
+    ),
+    "usefulness": (
+        ("useful_parts", {"grammar": NEST}, ((0,), (0, 1))),
+        ("least_tree", {"grammar": NEST, "name": 0}, (0,)),
+    ),
+}
+
+
+class InterfaceTest(unittest.TestCase):
+    def each(self):
+        for file, functions in INTERFACE.items():
+            for name, given, result in functions:
+                function = getattr(importlib.import_module(f"stillends.{file}"), name)
+                yield file, function, given, result
+
+    def test_defined_in_the_file_with_these_parameters(self):
+        for file, function, given, _ in self.each():
+            self.assertEqual(function.__module__, f"stillends.{file}")
+            self.assertEqual(list(inspect.signature(function).parameters), list(given), function.__name__)
+
+    def test_called_by_name_in_any_sequence(self):
+        for _, function, given, result in self.each():
+            turned = dict(reversed(list(given.items())))
+            self.assertEqual(repr(function(**turned)), repr(result), function.__name__)
+
+    def test_called_by_position(self):
+        for _, function, given, result in self.each():
+            self.assertEqual(repr(function(*given.values())), repr(result), function.__name__)
