@@ -7,7 +7,12 @@ from stillends.trees import ask_tree
 def tree_text(grammar, tree):
     """The letters of the tree, in sequence."""
     ask_tree(grammar, tree)
-    return "".join(_letters_and_starts(grammar, tree)[0])
+    return "".join(letters_of_tree(grammar, tree))
+
+
+def letters_of_tree(grammar, tree):
+    """The list of the letters of a tree, which is not checked."""
+    return _letters_and_starts(grammar, tree)[0]
 
 
 def spans(grammar, tree):

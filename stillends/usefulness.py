@@ -39,12 +39,17 @@ def _new_ones(names, known):
 def least_tree(grammar, name):
     """A tree of the name with the fewest letters, and of these with the fewest rules; None if it has no tree."""
     ask_below(name, len(grammar[0]), "name")
-    rules = grammar[2]
     sizes, firsts = least_sizes(grammar)
     if sizes[name] is None:
         return None
     if sizes[name][1] > TREE_LIMIT:
         raise TooMuch("tree")
+    return tree_of_firsts(grammar, name, firsts)
+
+
+def tree_of_firsts(grammar, name, firsts):
+    """The tree of the name that has everywhere the first rule told for a name."""
+    rules = grammar[2]
     tree = []
     due = [name]
     while len(due) > 0:

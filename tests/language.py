@@ -300,6 +300,8 @@ def check_class(file, node):
         return
     if not isinstance(file.parents[node], ast.Module) or node.keywords or len(node.bases) > 1:
         file.tell(node, "L5, L15 a class")
+    if node.name.startswith("_"):
+        file.tell(node, "L12 the name of a class")
     names = [part.name for part in node.body if isinstance(part, ast.FunctionDef)]
     if len(names) != len(set(names)):
         file.tell(node, "L18 a method twice")

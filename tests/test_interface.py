@@ -4,7 +4,9 @@ import importlib
 import inspect
 import unittest
 
-from tests.helpers import CUTS, EVEN, FREE, NEST
+from tests.helpers import CUTS, EVEN, FREE, NEST, PAIRS, TASK
+
+ROAD = (2, ((0, "a", 0, 1), (0, "b", 1, 0), (1, "b", 0, 3), (1, "b", 1, 1)))
 
 # For each file: each function with its parameters, and values for them with the result.
 INTERFACE = {
@@ -70,6 +72,59 @@ INTERFACE = {
     "usefulness": (
         ("useful_parts", {"grammar": NEST}, ((0,), (0, 1))),
         ("least_tree", {"grammar": NEST, "name": 0}, (0,)),
+    ),
+    "nulls": (
+        ("nullable_names", {"grammar": NEST}, (0,)),
+        ("least_letters", {"grammar": NEST}, (0,)),
+        ("first_looped", {"grammar": NEST}, None),
+    ),
+    "members": (
+        ("in_grammar", {"grammar": NEST, "text": "ab"}, True),
+        ("begins", {"grammar": NEST, "text": "aa"}, True),
+        ("spans_of", {"grammar": NEST, "text": "a"}, ((0, 0, 0), (1, 0, 1))),
+    ),
+    "listings": (("texts_upto", {"grammar": NEST, "most": 2}, ("", "ab")),),
+    "treecounts": (("count_trees", {"grammar": PAIRS, "text": "a"}, 2),),
+    "treenumbers": (
+        ("nth_tree", {"grammar": PAIRS, "text": "a", "k": 1}, (0, 2, 1)),
+        ("rank_tree", {"grammar": PAIRS, "tree": (0, 2, 1)}, 1),
+    ),
+    "machines": (
+        ("lets_machine", {"thing": ROAD}, 2),
+        ("text_price", {"machine": ROAD, "here": 0, "there": 1, "text": "ab"}, 1),
+    ),
+    "meets": (
+        ("prices", {"grammar": NEST, "machine": ROAD}, ((0, 0, 0, 0), (0, 0, 1, 1), (1, 0, 1, 0))),
+        ("least_three", {"grammar": NEST, "machine": ROAD, "here": 0, "name": 0, "there": 1}, (1, 2, 2)),
+    ),
+    "leastways": (
+        ("least_way", {"grammar": NEST, "machine": ROAD, "here": 0, "name": 0, "there": 1}, ((1, 0), (0, 0, 1))),
+        (
+            "way_price",
+            {"grammar": NEST, "machine": ROAD, "here": 0, "name": 0, "there": 1, "thing": ((1, 0), (0, 0, 1))},
+            1,
+        ),
+    ),
+    "floors": (
+        ("floor_holds", {"grammar": NEST, "machine": (1, ()), "table": ((0, 0, 0, 0),)}, True),
+        ("cut_table", {"table": ((0, 0, 1, 7),), "most": 3}, ((0, 0, 1, 3),)),
+    ),
+    "closedlists": (
+        ("items_of", {"grammar": NEST, "machine": ROAD}, ((0, 0, 0), (0, 0, 1), (1, 0, 1))),
+        ("closed_list", {"grammar": NEST, "machine": (1, ()), "items": ((0, 0, 0),)}, True),
+    ),
+    "chains": (("chained", {"machine": (1, ()), "state": 0, "text": "a"}, ((2, ((1, "a", 0, 0),)), 1)),),
+    "shortest": (
+        ("shortest_text", {"grammar": NEST}, ("", (0,))),
+        ("shortest_taken", {"grammar": NEST, "machine": ROAD, "state": 0, "finals": (1,)}, ("ab", (1, 0))),
+    ),
+    "insides": (
+        ("inside", {"task": TASK, "writer": EVEN, "most": 0}, ((0, 0, 0, 0, 0, 0, 1), (1, 0, 0, 1, 0, 0, 1))),
+    ),
+    "tasks": (
+        ("lets_task", {"thing": TASK}, 3),
+        ("is_good", {"task": TASK, "row": (2,)}, True),
+        ("letters_read", {"task": TASK, "row": (2,)}, "ab"),
     ),
 }
 

@@ -22,6 +22,7 @@ BREACHES = (
     ("L10", "def f():\n" + "    pass\n" * 41),
     ("L10", "# x\n" * 400),
     ("L12", "def f():\n    __x = 1\n    return __x\n"),
+    ("L12", "class _A:\n    pass\n"),
     ("L14", "# \u00e9\n"),
     ("L15", "def f(hash):\n    return hash\n"),
     ("L15", "class A:\n    pass\n\n\ndef f():\n    A = 1\n    return A\n"),
