@@ -23,13 +23,12 @@ class Bodies:
     """
 
     def __init__(self, grammar, rules):
-        self.grammar = grammar
         # For each beginning its last symbol, the beginning without it, and what goes on from it.
         self.lasts = [None]
         self.befores = [0]
         self.by_letter = [[]]
         self.by_name = [[]]
-        # For each beginning the pairs (name, rule) of the rules whose body is all of it.
+        # For each beginning the names that have a rule whose body is all of it.
         self.ends = [[]]
         # For each name the beginnings of which it is the last symbol, and pairs (rule, whole body) of its rules.
         self.uses = [[] for _ in grammar[0]]
@@ -38,7 +37,7 @@ class Bodies:
         for rule in rules:
             head, body = grammar[2][rule]
             whole = self._laid_out(body, numbers)
-            self.ends[whole].append((head, rule))
+            self.ends[whole].append(head)
             self.wholes[head].append((rule, whole))
         self.many = len(self.lasts)
 

@@ -47,7 +47,7 @@ def _is_closed_from(state, bodies, moves, named):
         states = reached[bodies.befores[beginning]]
         reached.append(_step(states, bodies.lasts[beginning], moves, named) if states > 0 else 0)
     for beginning, states in enumerate(reached):
-        for name, _ in bodies.ends[beginning]:
+        for name in bodies.ends[beginning]:
             if states & ~named[state].get(name, 0) > 0:
                 return False
     return True

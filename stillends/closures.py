@@ -109,7 +109,7 @@ class Closure:
             for name, longer in bodies.by_name[beginning]:
                 self._come(here, longer, self._ends_of(name, stops))
                 self._wait(here, longer, open_stops)
-        for name, _ in bodies.ends[beginning]:
+        for name in bodies.ends[beginning]:
             self._derive(here, name, states)
 
     def _ends_of(self, name, stops):

@@ -56,7 +56,7 @@ def _holds_from(state, bodies, leads):
         before = sums[bodies.befores[beginning]]
         sums.append(_sums_behind(before, leads.get(bodies.lasts[beginning], {})))
     for beginning, least in enumerate(sums):
-        for name, _ in bodies.ends[beginning]:
+        for name in bodies.ends[beginning]:
             if not _are_above(least, leads.get(name, {}).get(state, {})):
                 return False
     return True

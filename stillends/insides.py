@@ -78,7 +78,7 @@ class Sums:
     def _go_on(self, here, beginning, there, many, total):
         """Adds to all that comes of a beginning with its sum."""
         bodies = self._bodies
-        for name, _ in bodies.ends[beginning]:
+        for name in bodies.ends[beginning]:
             self._put((here, bodies.part_of(name), there, many), total)
         place, state = there
         for letter, longer in bodies.by_letter[beginning]:

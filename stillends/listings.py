@@ -51,7 +51,7 @@ class Listing:
                 for other in self._fitting(bodies.befores[longer], longer, text):
                     self._meet(longer, other + text)
             return
-        for name, _ in bodies.ends[part]:
+        for name in bodies.ends[part]:
             self._meet(bodies.part_of(name), text)
         for letter, longer in bodies.by_letter[part]:
             self._meet(longer, text + letter)

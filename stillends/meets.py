@@ -130,7 +130,7 @@ class Meet:
         """Offers what comes of a settled beginning: longer ones, and the names of which it is a whole body."""
         bodies = self.bodies
         price, letters, rules = three
-        for name, _ in bodies.ends[beginning]:
+        for name in bodies.ends[beginning]:
             self._offer((price, letters, rules + self._size), here, bodies.part_of(name), ends)
         if len(bodies.by_letter[beginning]) + len(bodies.by_name[beginning]) == 0:
             return

@@ -4,7 +4,7 @@ from stillends.checks import ask_text
 from stillends.closures import bits
 from stillends.errors import NotUsable, TooMuch
 from stillends.grammars import is_name
-from stillends.letters import is_number
+from stillends.letters import is_letter, is_number
 from stillends.limits import TREE_LIMIT
 from stillends.nulls import ask_no_loop
 from stillends.treecounts import Forest
@@ -65,15 +65,10 @@ class Walk:
 
     def is_over(self):
         """Whether no name is due any more."""
-        while len(self._due) > 0 and not isinstance(self._due[-1], tuple):
-            self._due.pop()
-            self._at += 1
         return len(self._due) == 0
 
     def rule_numbers(self):
         """The list of pairs of a rule of the name that is due next, and how many of the trees go on with it."""
-        if self.is_over():
-            return []
         name, behind = self._due[-1]
         forest = self._forest
         found = []
@@ -84,16 +79,18 @@ class Walk:
 
     def take(self, rule):
         """Goes on with the rule, one of those of the name that is due next."""
-        if self.is_over():
-            return
+        bodies = self._forest.bodies
         name, behind = self._due.pop()
-        wholes = {other: whole for other, whole in self._forest.bodies.wholes[name]}
+        wholes = {other: whole for other, whole in bodies.wholes[name]}
         due = []
-        for beginning in self._forest.bodies.path_to(wholes[rule])[:0:-1]:
-            last = self._forest.bodies.lasts[beginning]
+        for beginning in bodies.path_to(wholes[rule])[:0:-1]:
+            last = bodies.lasts[beginning]
             due.append((last, behind) if is_name(last) else last)
             behind = self._ways_behind(beginning, behind)
         self._due.extend(due)
+        while len(self._due) > 0 and is_letter(self._due[-1]):
+            self._due.pop()
+            self._at += 1
 
     def _ways_behind(self, beginning, behind):
         """The dict for the last symbol of the beginning and all behind it, from the dict for all behind it."""
@@ -103,9 +100,10 @@ class Walk:
         ends = [there for there in bits(reached[beginning]) if there in behind]
         if not is_name(last):
             return {there - 1: behind[there] for there in ends}
+        part = forest.bodies.part_of(last)
         ahead = {}
         for stop in bits(reached[forest.bodies.befores[beginning]]):
-            ways = sum([forest.number(stop, forest.bodies.part_of(last), there) * behind[there] for there in ends])
+            ways = sum([forest.number(stop, part, there) * behind[there] for there in ends])
             if ways > 0:
                 ahead[stop] = ways
         return ahead

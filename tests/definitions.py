@@ -2,8 +2,9 @@
 
 from itertools import product
 
+from stillends.treetexts import tree_text
 from tests.test_trees import trees_of
-from tests.test_usefulness import names_in, parts_by_sets, some_grammar
+from tests.test_usefulness import parts_by_sets, some_grammar
 
 
 def beginnings_by_sets(grammar, most):
@@ -127,9 +128,7 @@ def least_runs(body, here, arcs, least):
 
 
 def ways_with_trees(grammar, machine, name, most):
-    """All (here, there, price, letters, rules) of ways with trees of the name of at most so many rules."""
-    from stillends.treetexts import tree_text
-
+    """All (here, there, three, tree, states) of ways with trees of the name of at most so many rules."""
     found = []
     for tree in trees_of(grammar, name, most):
         text = tree_text(grammar, tree)

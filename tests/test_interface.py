@@ -146,6 +146,9 @@ class InterfaceTest(unittest.TestCase):
             turned = dict(reversed(list(given.items())))
             self.assertEqual(repr(function(**turned)), repr(result), function.__name__)
 
-    def test_called_by_position(self):
+    def test_called_by_position_and_asked_again(self):
         for _, function, given, result in self.each():
-            self.assertEqual(repr(function(*given.values())), repr(result), function.__name__)
+            before = repr(given)
+            for _ in range(2):
+                self.assertEqual(repr(function(*given.values())), repr(result), function.__name__)
+            self.assertEqual(repr(given), before, function.__name__)

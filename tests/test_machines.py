@@ -2,10 +2,13 @@
 
 import random
 
+from stillends.books import takes
 from stillends.machines import lets_machine, text_price
-from stillends.spellers import priced
+from stillends.spellers import priced, speller
+from stillends.tokenlists import row_text
 from tests.definitions import some_machine, ways_of
-from tests.helpers import BAD_TEXTS, CUTS, DEEP, FREE, LONG_TEXT, ODD, Case, texts_over
+from tests.helpers import BAD_TEXTS, CUTS, DEEP, FREE, LONG_TEXT, ODD, Case, rows_upto, texts_over
+from tests.test_spellers import some_case
 
 ROAD = (2, ((0, "a", 0, 1), (0, "b", 1, 0), (1, "b", 0, 3), (1, "b", 1, 1)))
 # For a machine of two states: no states of it.
@@ -82,6 +85,23 @@ class TextPriceTest(Case):
                         found[states[-1]] = min(price, found.get(states[-1], price))
                     for there in range(machine[0]):
                         self.same(text_price(machine, here, there, text), found.get(there))
+
+    def test_rows_of_a_task(self):
+        # The price of a way is the length of the row: the least one is that of a shortest row with the text.
+        chance = random.Random(371)
+        for _ in range(40):
+            tokens, book, begun = some_case(chance)
+            for mode in ("behind", "healed"):
+                machine = priced(tokens, book, begun, mode)
+                finals = speller(tokens, book, begun, mode)[1]
+                lengths = {}
+                for row in [row for row in rows_upto(len(tokens), 4) if takes(tokens, book, row)]:
+                    text = (begun if mode == "behind" else "") + row_text(tokens, row)
+                    lengths.setdefault(text, len(row))
+                for text in [text for text in texts_over("ab", 4) if text.startswith(begun)]:
+                    costs = [text_price(machine, 0, final, text) for final in finals]
+                    costs = [cost for cost in costs if cost is not None]
+                    self.same(min(costs, default=None), lengths.get(text))
 
     def test_edges(self):
         self.same(text_price(ROAD, 0, 0, "aabb"), 5)

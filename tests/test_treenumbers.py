@@ -58,6 +58,10 @@ class NumbersTest(Case):
             self.same(rank_tree(CATALAN, tree), k)
         self.same(nth_tree(CATALAN, text, 0), (1, 0) * 102 + (0,))
         self.refuses("NotUsable('k')", nth_tree, CATALAN, text, many)
+        choice = (("s", "x", "y"), 0, ((0, (1, 0)), (0, ()), (1, ("a",)), (1, (2,)), (2, ("a",))))
+        tree = nth_tree(choice, "a" * 199, 2**199 - 2)
+        self.same(tree, (0, 3, 4) * 198 + (0, 2, 1))
+        self.same(rank_tree(choice, tree), 2**199 - 2)
 
     def test_first_and_last(self):
         # Rule 0 is the letter: the first tree goes on to the right, the last one to the left.
