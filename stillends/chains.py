@@ -5,9 +5,14 @@ from stillends.checks import ask_below, ask_text
 
 def chained(machine, state, text):
     """The machine with a chain of new states that reads the text up to the state, and the state where it begins."""
-    count, arcs = machine
-    ask_below(state, count, "state")
+    ask_below(state, machine[0], "state")
     ask_text(text)
+    return linked(machine, state, text)
+
+
+def linked(machine, state, text):
+    """What chained tells, for a text of any length, which is not checked."""
+    count, arcs = machine
     if text == "":
         return ((count, tuple(arcs)), state)
     many = count + len(text)

@@ -1,5 +1,6 @@
 """Ways with trees: any with the least three, and the price of a told one."""
 
+from stillends.bodies import all_bodies
 from stillends.checks import are_below, is_tuple_of
 from stillends.closures import bits
 from stillends.errors import TooMuch
@@ -19,7 +20,7 @@ def least_way(grammar, machine, here, name, there):
 
 def least_way_to(grammar, machine, here, name, goals):
     """What least_way tells, of the items with any of a set of last states the one with the least three."""
-    meet = Meet(grammar, machine, 1)
+    meet = Meet(all_bodies(grammar), machine, 1)
     goal = meet.settle(here, name, goals)
     if goal is None:
         return None

@@ -9,10 +9,8 @@ from stillends.closures import bits
 
 def prices(grammar, machine):
     """All (p, name, q, price) where the item (p, name, q) has a way and this least price, ascending."""
-    meet = Meet(grammar, machine, 0)
-    for state in range(machine[0]):
-        meet.begin_at(state)
-    meet.settle_all()
+    meet = Meet(all_bodies(grammar), machine, 0)
+    meet.settle_from(0)
     told = []
     for here in range(machine[0]):
         for name in range(len(grammar[0])):
@@ -24,7 +22,7 @@ def prices(grammar, machine):
 def least_three(grammar, machine, here, name, there):
     """The least price, and with it the fewest letters, and with these the fewest rules; None if there is no way."""
     ask_item(grammar, machine, here, name, there)
-    meet = Meet(grammar, machine, 1)
+    meet = Meet(all_bodies(grammar), machine, 1)
     goal = meet.settle(here, name, 1 << there)
     return None if goal is None else goal[0]
 
@@ -41,12 +39,14 @@ class Meet:
 
     A three is a tuple of a price, a number of letters and a number of rules. None of these becomes less
     as items are put together, so the least that is not settled yet is settled next. With size 0 letters
-    and rules do not count, so that all ends with one price are settled at once.
+    and rules do not count, so that all ends with one price are settled at once. If wanted is not None it has
+    for each state a dict from parts to the set of the ends that are looked at, all others are left out.
     """
 
-    def __init__(self, grammar, machine, size):
-        self.bodies = all_bodies(grammar)
+    def __init__(self, bodies, machine, size, wanted=None):
+        self.bodies = bodies
         self._size = size
+        self._wanted = wanted
         count, arcs = machine
         # For each state and letter a dict from prices to sets of states.
         self._steps = [{} for _ in range(count)]
@@ -75,10 +75,13 @@ class Meet:
             self._begun[state] = True
             self._offer((0, 0, 0), state, 0, 1 << state)
 
-    def settle_all(self):
-        """Settles all there is from the states begun at."""
-        while len(self._queue) > 0:
-            self._settle_next()
+    def settle_from(self, first):
+        """Settles all there is from this state and all with greater numbers, and from those that they lead to."""
+        # Arcs lead to greater numbers more often than not, so most of what a state needs is settled ahead of it.
+        for state in range(len(self._threes) - 1, first - 1, -1):
+            self.begin_at(state)
+            while len(self._queue) > 0:
+                self._settle_next()
 
     def settle(self, here, name, goals):
         """Settles until the name leads from here to one of a set of states: a pair of the three and such a state.
@@ -96,6 +99,10 @@ class Meet:
 
     def _offer(self, three, here, part, ends):
         """Puts ends that are not settled into the queue."""
+        if self._wanted is not None and part > 0:
+            ends &= self._wanted[here].get(part, 0)
+            if ends == 0:
+                return
         least = self._least[here].setdefault(part, {})
         # The same ends are offered again and again where prices differ; only a lesser three is of use.
         if ends in least and least[ends] <= three:

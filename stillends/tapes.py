@@ -26,9 +26,14 @@ def chosen(shares, digit):
 
 def says(tokens, writer, tape):
     """The row that the tape says, whether END was chosen, and how many digits were used."""
-    total, weights, nexts = writer
-    if not are_below(tape, total) or not 1 <= len(tape) <= BUDGET_LIMIT + 1:
+    if not are_below(tape, writer[0]) or not 1 <= len(tape) <= BUDGET_LIMIT + 1:
         raise NotUsable("tape")
+    return said(writer, tape)
+
+
+def said(writer, tape):
+    """What says tells, for a tape of any length, which is not checked."""
+    _, weights, nexts = writer
     row = []
     state = 0
     for digit in tape:

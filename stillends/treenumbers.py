@@ -9,7 +9,7 @@ from stillends.limits import TREE_LIMIT
 from stillends.nulls import ask_no_loop
 from stillends.treecounts import Forest
 from stillends.trees import is_of_grammar
-from stillends.treetexts import tree_text
+from stillends.treetexts import letters_of_tree
 
 
 def nth_tree(grammar, text, k):
@@ -21,7 +21,12 @@ def nth_tree(grammar, text, k):
     forest = Forest(grammar, text)
     if k >= forest.total():
         raise NotUsable("k")
-    walk = Walk(forest, grammar[1], len(text))
+    return tree_at(grammar, forest, len(text), k)
+
+
+def tree_at(grammar, forest, length, k):
+    """Number k of the trees of a forest, whose text has this length; TooMuch("tree")."""
+    walk = Walk(forest, grammar[1], length)
     tree = []
     while not walk.is_over():
         if len(tree) == TREE_LIMIT:
@@ -40,7 +45,12 @@ def rank_tree(grammar, tree):
     if not is_of_grammar(grammar, tree):
         raise NotUsable("tree")
     ask_no_loop(grammar)
-    text = tree_text(grammar, tree)
+    return rank_of(grammar, tree)
+
+
+def rank_of(grammar, tree):
+    """What rank_tree tells of a tree of the grammar, which is not checked."""
+    text = "".join(letters_of_tree(grammar, tree))
     walk = Walk(Forest(grammar, text), grammar[1], len(text))
     rank = 0
     for taken in tree:

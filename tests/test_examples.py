@@ -4,31 +4,58 @@ import unittest
 
 from stillends.books import free_book, lets_book, runs, takes
 from stillends.canon import canon_book, longest_row
+from stillends.carries import carry
 from stillends.chains import chained
 from stillends.closedlists import closed_list, items_of
+from stillends.endings import ending
 from stillends.errors import StillError
+from stillends.faults import fault, mask_custom, safe_customs
+from stillends.firsts import first_letters
+from stillends.firsttrees import own_tape
 from stillends.floors import cut_table, floor_holds
+from stillends.follows import follow_letters
+from stillends.goodpairs import is_good_pair
 from stillends.grammars import lets_grammar
+from stillends.guides import Guide
 from stillends.insides import inside
 from stillends.leastways import least_way, way_price
 from stillends.letters import END, is_letter, is_number, is_text
 from stillends.listings import texts_upto
 from stillends.machines import lets_machine, text_price
+from stillends.masks import mask, settled
 from stillends.meets import least_three, prices
 from stillends.members import begins, in_grammar, spans_of
+from stillends.needing import need, needs
+from stillends.nextletters import next_letters, sure_beginning
 from stillends.nulls import first_looped, least_letters, nullable_names
 from stillends.pairbooks import pairs_book
+from stillends.pairnumbers import nth_pair, rank_pair
+from stillends.plainruns import PlainRun
+from stillends.predicting import first_clash, predicts, reads_one_way
+from stillends.quickneeds import quick_need, quick_needs
+from stillends.ranks import empty_sizes, left_ranks
+from stillends.readers import Reader
+from stillends.readings import read_tree
+from stillends.refusals import judge_why_not, why_not
+from stillends.respells import rows_of
 from stillends.shortest import shortest_taken, shortest_text
 from stillends.spellers import place_behind, priced, speller
+from stillends.stands import may_end, push_letter, stand_behind
+from stillends.stepweights import row_pairs, step_weights
+from stillends.surerules import sure_rules
+from stillends.suretexts import sure_text
 from stillends.tapes import choice_of, says, tapes_of
 from stillends.tasks import is_good, letters_read, lets_task
 from stillends.tokenlists import is_row, lets_tokens, row_text
+from stillends.totals import total
 from stillends.treecounts import count_trees
 from stillends.treenumbers import nth_tree, rank_tree
 from stillends.trees import grafted, is_of_grammar, kids, lets_tree
 from stillends.treetexts import spans, tree_text
 from stillends.tries import inner_texts, token_number
 from stillends.usefulness import least_tree, useful_parts
+from stillends.vectors import stand_vector
+from stillends.walks import stood_at
 from stillends.writers import even_writer, lets_writer, state_behind
 from tests.helpers import told
 
@@ -134,6 +161,118 @@ EXAMPLES = """
     (True, False)
     >>> letters_read((NEST, CUTS, FREE, "a", "behind"), (1,))
     'ab'
+    >>> need(TASK, (0,)), needs(TASK, (0,)), needs(TASK, (1,))
+    (1, (2, 0, 1), (None, None, None))
+    >>> needs((NEST, CUTS, FREE, "a", "healed"), ())
+    (1, None, 0)
+    >>> mask(TASK, (0,), 2), mask(TASK, (0,), 0), settled(TASK, (0,))
+    (((1, 2), False), ((), False), 3)
+    >>> ending(TASK, (0, 0)), ending(TASK, (0, 1)), ending(TASK, (1,))
+    (((1, 1), (1, 1, 0)), ((), (1, 0)), None)
+    >>> rows_of(TASK, "ab"), rows_of(TASK, "a"), rows_of(TASK, "")
+    (((2,), (0, 1)), (), ((),))
+    >>> why_not(TASK, (0,), 1), judge_why_not(TASK, (0,), 0, why_not(TASK, (0,), 0))
+    (None, True)
+    >>> why_not((NEST, CUTS, FREE, "a", "healed"), (1,), 3)
+    ()
+    >>> stood_at(TASK, (0,), 2), stood_at(TASK, (0,), 1), stood_at(TASK, (0,), 0)
+    (('', 'a'), ('',), ())
+    >>> run = PlainRun(TASK, 2)
+    >>> run.write(0)
+    >>> run.choices(), run.looked()
+    (((1,), False), ('',))
+    >>> run.write(True)
+    raises NotLet(True)
+    >>> run.write(1)
+    >>> run.write(-1)
+    >>> run.text(), run.tree(), run.choices()
+    ('ab', (1, 0), ((), False))
+    >>> fault(TASK, 1, (((), (0, 2)),)), fault(TASK, 1, (((2,), (-1,)), ((), (2,))))
+    (('stuck', (0,)), ('loses', ()))
+    >>> mask_custom(TASK, 1), safe_customs(TASK, 1)
+    ((((), (-1, 2)), ((2,), (-1,))), 3)
+    >>> FORK = (("s", "t", "u"), 0, ((0, (1, "c")), (1, ()), (1, ("a", 1, "b")), (2, (2,))))
+    >>> first_letters(FORK)
+    (('a', 'c'), ('a',), ())
+    >>> follow_letters(FORK)
+    (('',), ('b', 'c'), ())
+    >>> predicts(FORK)
+    (('a', 'c'), ('b', 'c'), ('a',), ())
+    >>> first_clash((("s", "t"), 0, ((0, ()), (0, (1,)), (1, ()))))
+    (0, 0, 1, '')
+    >>> reads_one_way(FORK)
+    True
+    >>> left_ranks(FORK), empty_sizes(FORK)
+    ((1, 0, None), (None, 1, None))
+    >>> empty_sizes((("s", "t"), 0, ((0, (1, 1)), (1, ()))))
+    (3, 1)
+    >>> left_ranks((("s",), 0, ((0, ()), (0, (0, "a")))))
+    raises NotOneWay(0, 0, 1, 'a')
+    >>> stand_behind(NEST, "aa"), stand_behind(NEST, "aba")
+    ((0, 'b', 'b'), None)
+    >>> push_letter(NEST, (0, "b"), "b"), push_letter(NEST, ("b", 0), "a")
+    ((), None)
+    >>> may_end(NEST, (0, 0)), may_end(NEST, (0, "b"))
+    (True, False)
+    >>> next_letters(NEST, ""), next_letters(NEST, "aab"), next_letters(NEST, "ba")
+    ((('a',), True), (('b',), False), ((), False))
+    >>> sure_beginning(NEST, "abab"), sure_beginning(NEST, "ba")
+    (2, 0)
+    >>> read_tree(NEST, "aabb"), read_tree(NEST, "aab")
+    ((1, 1, 0), None)
+    >>> r = Reader(NEST)
+    >>> r.push("a"), r.push("b"), r.push("a")
+    (True, True, False)
+    >>> r.text(), r.stand(), r.rules(), r.end()
+    ('ab', (), (1, 0), (1, 0))
+    >>> stand_vector(TASK, (0,)), stand_vector(TASK, (0, "b"))
+    ((0, None), (1, 1))
+    >>> quick_need(TASK, (0,)), quick_needs(TASK, ())
+    (1, (1, None, 0))
+    >>> sure_text(TASK, (0,), 1), sure_text(TASK, (0,), 2)
+    ('b', '')
+    >>> sure_text((NEST, CUTS, FREE, "a", "healed"), (), 1)
+    'ab'
+    >>> sure_rules(TASK, (0,), 1), sure_rules(TASK, (0,), 2), sure_rules(TASK, (), 0)
+    ((0,), (), (0,))
+    >>> run = Guide(TASK).run(2)
+    >>> run.choices(), run.looked()
+    (((0, 2), True), ('', 'a'))
+    >>> run.write(0)
+    >>> run.choices(), run.rules(), run.sure_text(), run.sure_rules()
+    (((1,), False), (1,), 'b', (0,))
+    >>> run = Guide((NEST, CUTS, FREE, "a", "healed")).run(1)
+    >>> run.text(), run.row(), run.rules(), run.choices()
+    ('a', (), (), ((2,), False))
+    >>> run.write(2)
+    >>> run.write(-1)
+    >>> run.ended(), run.rules(), run.tree(), run.sure_rules()
+    (True, (1, 0), (1, 0), ())
+    >>> run.back(1)
+    >>> run.ended(), run.choices()
+    (False, ((), True))
+    >>> run = Guide(TASK).run(2)
+    >>> run.write(0)
+    >>> carry(run, NEST, ("bb", "b"), FREE2).choices()
+    ((1,), False)
+    >>> carry(run, NEST, LONE, FREE2)
+    raises NoEnding
+    >>> is_good_pair(TASK, EVEN, 1, ((2, 3), (1, 0))), is_good_pair(TASK, EVEN, 1, ((2, 0), (1, 0)))
+    (True, False)
+    >>> total(TASK, EVEN, (), 1), total(TASK, EVEN, (0,), 1), total(TASK, EVEN, (1,), 1)
+    (5, 1, 0)
+    >>> step_weights(TASK, EVEN, 1, ()), row_pairs(TASK, EVEN, 1, (2,))
+    ((0, 0, 1, 4), 1)
+    >>> step_weights(TASK, EVEN, 2, (0,))
+    (0, 1, 0, 0)
+    >>> nth_pair(TASK, EVEN, 1, 0), rank_pair(TASK, EVEN, 1, (3, 2), (0,))
+    (((2, 3), (1, 0)), 3)
+    >>> nth_pair(TASK, EVEN, 1, 5)
+    raises NotUsable('k')
+    >>> TWICE = (("s", "x"), 0, ((0, ("a",)), (0, (1,)), (1, ("a",))))
+    >>> ONE = (TWICE, ("a",), (1, (0,), ((0,),)), "", "behind")
+    >>> own_tape(ONE, (2, ((1, 1),), ((0,),)), 1, 0), own_tape(ONE, (2, ((1, 1),), ((0,),)), 1, 1)
+    ((0, 1), None)
 """
 
 

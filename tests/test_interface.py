@@ -126,6 +126,83 @@ INTERFACE = {
         ("is_good", {"task": TASK, "row": (2,)}, True),
         ("letters_read", {"task": TASK, "row": (2,)}, "ab"),
     ),
+    "needing": (
+        ("need", {"task": TASK, "row": (0,)}, 1),
+        ("needs", {"task": TASK, "row": (0,)}, (2, 0, 1)),
+    ),
+    "masks": (
+        ("mask", {"task": TASK, "row": (0,), "left": 2}, ((1, 2), False)),
+        ("settled", {"task": TASK, "row": (0,)}, 3),
+    ),
+    "endings": (("ending", {"task": TASK, "row": (0,)}, ((1,), (1, 0))),),
+    "respells": (("rows_of", {"task": TASK, "text": "ab"}, ((2,), (0, 1))),),
+    "refusals": (
+        ("why_not", {"task": (NEST, CUTS, FREE, "a", "healed"), "row": (1,), "left": 3}, ()),
+        ("judge_why_not", {"task": TASK, "row": (0,), "left": 0, "table": ()}, False),
+    ),
+    "walks": (("stood_at", {"task": TASK, "row": (0,), "left": 2}, ("", "a")),),
+    "faults": (
+        ("lets_custom", {"tokens": CUTS, "budget": 1, "thing": (((0,), (-1,)),)}, 1),
+        ("fault", {"task": TASK, "budget": 1, "custom": ()}, ("stuck", ())),
+        ("mask_custom", {"task": TASK, "budget": 0}, (((), (-1,)),)),
+        ("safe_customs", {"task": TASK, "budget": 1}, 3),
+    ),
+    "firsts": (("first_letters", {"grammar": NEST}, (("a",),)),),
+    "follows": (("follow_letters", {"grammar": NEST}, (("", "b"),)),),
+    "predicting": (
+        ("predicts", {"grammar": NEST}, (("", "b"), ("a",))),
+        ("first_clash", {"grammar": PAIRS}, (1, 1, 2, "a")),
+        ("reads_one_way", {"grammar": NEST}, True),
+    ),
+    "ranks": (
+        ("left_ranks", {"grammar": NEST}, (0,)),
+        ("empty_sizes", {"grammar": NEST}, (1,)),
+    ),
+    "stands": (
+        ("stand_behind", {"grammar": NEST, "text": "a"}, (0, "b")),
+        ("push_letter", {"grammar": NEST, "stand": (0, "b"), "letter": "b"}, ()),
+        ("may_end", {"grammar": NEST, "stand": (0, 0)}, True),
+    ),
+    "nextletters": (
+        ("next_letters", {"grammar": NEST, "text": "a"}, (("a", "b"), False)),
+        ("sure_beginning", {"grammar": NEST, "text": "aba"}, 2),
+    ),
+    "readings": (("read_tree", {"grammar": NEST, "text": "ab"}, (1, 0)),),
+    "vectors": (("stand_vector", {"task": TASK, "stand": (0, "b")}, (1, 1)),),
+    "quickneeds": (
+        ("quick_need", {"task": TASK, "row": (0,)}, 1),
+        ("quick_needs", {"task": TASK, "row": (0,)}, (2, 0, 1)),
+    ),
+    "suretexts": (("sure_text", {"task": TASK, "row": (0,), "left": 1}, "b"),),
+    "surerules": (("sure_rules", {"task": TASK, "row": (0,), "left": 1}, (0,)),),
+    "goodpairs": (
+        ("is_good_pair", {"task": TASK, "writer": EVEN, "budget": 1, "thing": ((2, 3), (1, 0))}, True),
+    ),
+    "totals": (("total", {"task": TASK, "writer": EVEN, "row": (), "left": 1}, 5),),
+    "stepweights": (
+        ("step_weights", {"task": TASK, "writer": EVEN, "budget": 1, "row": ()}, (0, 0, 1, 4)),
+        ("row_pairs", {"task": TASK, "writer": EVEN, "budget": 1, "row": (2,)}, 1),
+    ),
+    "pairnumbers": (
+        ("nth_pair", {"task": TASK, "writer": EVEN, "budget": 1, "k": 0}, ((2, 3), (1, 0))),
+        ("rank_pair", {"task": TASK, "writer": EVEN, "budget": 1, "tape": (3, 2), "tree": (0,)}, 3),
+    ),
+    "firsttrees": (("own_tape", {"task": TASK, "writer": EVEN, "budget": 1, "k": 0}, (2, 3)),),
+}
+
+RUN_METHODS = {"row": (), "text": (), "left": (), "ended": (), "need": (), "choices": (), "looked": (), "tree": ()}
+RUN_METHODS["write"] = ("choice",)
+
+# For each file with a class: the class, the parameters of making it, and those of its methods.
+CLASSES = {
+    "plainruns": ("PlainRun", ("task", "budget"), RUN_METHODS),
+    "readers": ("Reader", ("grammar",), {"push": ("letter",), "text": (), "stand": (), "rules": (), "end": ()}),
+    "guides": ("Guide", ("task",), {"task": (), "run": ("budget",)}),
+    "liveruns": (
+        "Run",
+        ("guide", "budget"),
+        dict(RUN_METHODS, rules=(), sure_text=(), sure_rules=(), back=("k",), fork=(), guide=()),
+    ),
 }
 
 
@@ -152,3 +229,18 @@ class InterfaceTest(unittest.TestCase):
             for _ in range(2):
                 self.assertEqual(repr(function(*given.values())), repr(result), function.__name__)
             self.assertEqual(repr(given), before, function.__name__)
+
+    def test_classes_define_their_methods_themselves(self):
+        for file, (name, made, methods) in CLASSES.items():
+            kind = getattr(importlib.import_module(f"stillends.{file}"), name)
+            self.assertEqual(kind.__module__, f"stillends.{file}")
+            self.assertEqual(tuple(inspect.signature(kind).parameters), made, name)
+            for method, parameters in methods.items():
+                self.assertIn(method, vars(kind), name)
+                found = tuple(inspect.signature(vars(kind)[method]).parameters)[1:]
+                self.assertEqual(found, parameters, f"{name}.{method}")
+
+    def test_carry(self):
+        carry = importlib.import_module("stillends.carries").carry
+        self.assertEqual(carry.__module__, "stillends.carries")
+        self.assertEqual(tuple(inspect.signature(carry).parameters), ("run", "grammar", "tokens", "book"))

@@ -1,0 +1,19 @@
+"""Guides: what all runs of one task have in common."""
+
+from stillends.leads import Lead
+from stillends.liveruns import Run
+
+
+class Guide(Lead):
+    """A task whose grammar reads one way, for runs to be led by."""
+
+    def __init__(self, task):
+        Lead.__init__(self, task)
+
+    def task(self):
+        """The task."""
+        return self.led_task
+
+    def run(self, budget):
+        """A new run of this guide with the budget."""
+        return Run(self, budget)
