@@ -5,7 +5,7 @@ from stillends.errors import InvalidPaper, NoEnding, NotUsable
 from stillends.letters import END, is_int
 from stillends.limits import CUSTOM_LIMIT
 from stillends.masks import mask_of
-from stillends.outlooks import Outlook
+from stillends.needing import Outlook
 from stillends.tokenlists import joined
 
 # Up to this budget safe_customs counts.

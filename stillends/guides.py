@@ -1,8 +1,7 @@
 """Guides: what all runs of one task have in common."""
 
-from stillends.leads import Lead
 from stillends.liveruns import Run
-
+from stillends.quickneeds import Lead
 
 class Guide(Lead):
     """A task whose grammar reads one way, for runs to be led by."""

@@ -2,14 +2,13 @@
 
 from stillends.checks import ask_short, is_below
 from stillends.errors import Ended, NoEnding, NotLet, NotUsable
-from stillends.leads import Lead
 from stillends.letters import END, is_int
 from stillends.masks import fitting_tokens
+from stillends.quickneeds import Lead
 from stillends.surerules import rules_ahead
 from stillends.suretexts import text_ahead
 from stillends.tasks import letters_behind
 from stillends.walks import stood_texts
-
 
 class Run:
     """A run that writes a row for the task of a guide, choice by choice, from () on, and then END."""

@@ -1,8 +1,7 @@
 """Masks of rows: which tokens may be written, and whether the row may end."""
 
 from stillends.checks import ask_row, ask_short
-from stillends.outlooks import outlook_at
-
+from stillends.needing import outlook_at
 
 def mask(task, row, left):
     """The mask of the row with so many tokens left."""

@@ -1,8 +1,7 @@
 """Which letters may come behind a text, and how far a text is sure to be a beginning."""
 
 from stillends.checks import ask_text
-from stillends.oneways import OneWay
-
+from stillends.stands import OneWay
 
 def next_letters(grammar, text):
     """The letters, ascending, with which some text of the grammar goes on behind the text; and whether it is one."""

@@ -1,17 +1,16 @@
 """Good pairs by number, in the sequence of their tapes, and then of their trees."""
 
 from stillends.checks import ask_short
-from stillends.errors import NotUsable, NoTape
+from stillends.errors import NoTape, NotUsable
 from stillends.goodpairs import are_good_pair
 from stillends.letters import END, is_number
 from stillends.nulls import ask_no_loop
-from stillends.scales import scale_at
 from stillends.stepweights import choice_pairs
 from stillends.tapes import chosen, said
 from stillends.tasks import letters_behind
+from stillends.totals import scale_at
 from stillends.treecounts import Forest
 from stillends.treenumbers import rank_of, tree_at
-
 
 def nth_pair(task, writer, budget, k):
     """Good pair number k: a tape and a tree."""

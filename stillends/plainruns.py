@@ -2,14 +2,13 @@
 
 from stillends.checks import ask_short
 from stillends.closures import text_machine
+from stillends.endings import tight_way
 from stillends.errors import Ended, NoEnding, NotLet
 from stillends.letters import END, is_int
 from stillends.masks import mask_of
-from stillends.outlooks import Outlook
+from stillends.needing import Outlook
 from stillends.tasks import letters_behind
-from stillends.tightways import tight_way
 from stillends.walks import stood_texts
-
 
 class PlainRun:
     """A run that writes tokens, from the row () on, and then END."""

@@ -1,9 +1,8 @@
 """Grammars that read one way: what leads on to what, and how large empty trees are."""
 
 from stillends.dots import Dots
-from stillends.oneways import OneWay
 from stillends.predicting import ask_one_way
-
+from stillends.stands import OneWay
 
 def left_ranks(grammar):
     """For each name the most steps in a chain of names each of which leads on to the next; None for a useless one."""

@@ -2,8 +2,7 @@
 
 from stillends.errors import NotUsable
 from stillends.letters import is_letter
-from stillends.oneways import OneWay, symbols_of
-
+from stillends.stands import OneWay, symbols_of
 
 class Reader:
     """An object that reads letters as long as some text of the grammar begins with them."""

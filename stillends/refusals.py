@@ -4,10 +4,9 @@ from stillends.chains import linked
 from stillends.checks import ask_row, ask_short
 from stillends.floors import cut_table, floor_holds
 from stillends.meets import prices
-from stillends.outlooks import outlook_at
+from stillends.needing import outlook_at
 from stillends.spellers import border_behind, priced, speller
 from stillends.tasks import letters_behind
-
 
 def why_not(task, row, left):
     """A table that shows that the row has no ending of at most left tokens; None if it has one."""

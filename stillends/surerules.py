@@ -3,10 +3,9 @@
 from stillends.checks import ask_row, ask_short
 from stillends.errors import TooMuch
 from stillends.grammars import is_name
-from stillends.leads import Lead
 from stillends.limits import TREE_LIMIT
+from stillends.quickneeds import Lead
 from stillends.suretexts import ask_ending, led_on, spots_behind
-
 
 def sure_rules(task, row, left):
     """The longest tuple of rules with which all trees of endings of at most left tokens go on, behind those read."""

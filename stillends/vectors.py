@@ -1,11 +1,9 @@
 """Vectors of stands: how many tokens it takes at least to read what they derive, place by place."""
 
-from stillends.dots import OVER, Dots
-from stillends.grounds import Ground
+from stillends.dots import Dots, OVER, Tails
 from stillends.ledgers import Ledger
+from stillends.spellers import Ground
 from stillends.stands import ask_stand
-from stillends.tails import Tails
-
 
 def stand_vector(task, stand):
     """For each place the least number of tokens finished on a way to a final that reads what the stand derives."""

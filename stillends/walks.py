@@ -2,9 +2,8 @@
 
 from stillends.checks import ask_row, ask_short
 from stillends.masks import mask_of
+from stillends.needing import outlook_at
 from stillends.orders import by_length
-from stillends.outlooks import outlook_at
-
 
 def stood_at(task, row, left):
     """The inner texts, by length, that can stand behind the row on the way to an ending of at most left tokens."""
