@@ -125,8 +125,8 @@ class SumLedger:
         leads = {entry: self._leads(entry)}
         due = [entry]
         while len(due) > 0:
-            here = due.pop()
-            for there, _, _ in list(leads[here]):
+            steps, spans = leads[due.pop()]
+            for there in [step[0] for step in steps] + [span[0] for span in spans]:
                 if there not in self._sums and there not in leads:
                     leads[there] = self._leads(there)
                     due.append(there)
@@ -135,28 +135,39 @@ class SumLedger:
             self._sums[other] = []
         for left in range(len(self._sums[_FREE])):
             for other in sequence:
-                shares = [ways * self._sums[there][left - more] for there, more, ways in leads[other] if more <= left]
+                steps, spans = leads[other]
+                shares = [ways * self._sums[there][left - more] for there, more, ways in steps if more <= left]
+                for there, ways in spans:
+                    # Ways with tokens lead to sums with fewer tokens left, the only ones that are sure to be there.
+                    first = 0 if ways[0] > 0 else 1
+                    last = min(left, len(ways) - 1)
+                    shares.append(_convolved(ways, self._sums[there], first, last, left))
                 self._sums[other].append(sum(shares))
 
     def _leads(self, entry):
-        """The list of (entry, number of tokens, number of ways): its sum is put together of these."""
+        """What the sum of an entry is put together of: a list of steps and a list of spans.
+
+        A step is a triple (entry, number of tokens, number of ways), a span a pair of an entry and a list of
+        numbers of ways by numbers of tokens, as far as there are ways.
+        """
         dots = self._dots
         dot, tail, point = entry
-        found = []
+        steps = []
+        spans = []
         if dots.ends[dot]:
-            found.extend([((longer, other, point), 0, ways) for longer, other, ways in self._tails.terms[tail]])
+            steps.extend([((longer, other, point), 0, ways) for longer, other, ways in self._tails.terms[tail]])
             if tail == 0:
-                found.extend(self._last(point))
+                steps.extend(self._last(point))
         for letter, leads in dots.letters[dot].items():
             for there, more, weight in weighed_arcs(self._ground, self._writer, point, letter):
-                found.extend([((longer, tail, there), more, weight) for longer in leads])
+                steps.extend([((longer, tail, there), more, weight) for longer in leads])
         for name, longer in dots.names[dot]:
             if longer == OVER:
-                found.append(((dots.roots[name], tail, point), 0, 1))
+                steps.append(((dots.roots[name], tail, point), 0, 1))
             else:
                 ends = self._rows.row_ends(name, point)
-                found.extend([((longer, tail, there), many, ways) for (there, many), ways in ends.items()])
-        return found
+                spans.extend([((longer, tail, there), ways) for there, ways in ends.items()])
+        return (steps, spans)
 
     def _last(self, point):
         """What comes of END at a point: at a final place it may be written, in as many ways as it has weight."""
@@ -171,17 +182,26 @@ def _sequence(leads):
     numbers = {entry: k for k, entry in enumerate(entries)}
     lone = []
     for entry in entries:
-        lone.append([numbers[there] for there, more, _ in leads[entry] if more == 0 and there in numbers])
+        steps, spans = leads[entry]
+        fixed = [there for there, more, _ in steps if more == 0] + [there for there, ways in spans if ways[0] > 0]
+        lone.append([numbers[there] for there in fixed if there in numbers])
     return [entries[part[0]] for part in components(lone)]
+
+
+def _convolved(some, others, first, last, many):
+    """The sum of the products of numbers of two lists whose places add up to many, the first one from first to last."""
+    behind = others[many - last : many - first + 1]
+    return sum([one * other for one, other in zip(some[first : last + 1], behind[::-1])])
 
 
 class SumRows:
     """For names and points the sums over all that the names derive, as they are asked for.
 
     A point is the number of a place times the number of the writer's states, and the number of a state. A row is a
-    pair of a name and a point. Its ends are a dict from pairs of a point and a number of tokens to the sum, over
-    all trees of the name and all ways that read their texts to that point with so many tokens, of the products of
-    the weights. What comes last in a body may be gone through for the row itself, as in PriceRows.
+    pair of a name and a point. Its ends are a dict from points to lists: for each number of tokens, as far as there
+    are any, the sum, over all trees of the name and all ways that read their texts to that point with so many
+    tokens, of the products of the weights. A name that comes last in a body may be gone through for the row itself,
+    as in PriceRows.
     """
 
     def __init__(self, dots, ground, writer, most):
@@ -190,9 +210,12 @@ class SumRows:
         self._writer = writer
         self._most = most
         self._ends = {}
-        # What waits for a row: a dict from (row, dot, number of tokens) to the sum so far.
+        # What waits for a row, and what a row waits for: for each pair of the row that waits and the dot that it
+        # comes to, the list of its sums by number of tokens; and the pairs (row waited for, dot) as a dict of True.
         self._waiting = {}
-        # Shares that are not added yet, by number of tokens and distance, as these can only grow; as a heap.
+        self._waits = {}
+        # Shares that are not added yet, by number of tokens and distance, as these can only grow; as a heap. Rows
+        # that come to a number of tokens are ahead of all shares with it.
         self._batches = {}
         self._queue = []
 
@@ -200,31 +223,52 @@ class SumRows:
         """The ends of a row."""
         self._begin((name, point))
         while len(self._queue) > 0:
-            batch = self._batches.pop(heappop(self._queue))
-            for (row, dot, there, many), share in batch.items():
-                self._go_on(row, dot, there, many, share)
+            key = heappop(self._queue)
+            batch = self._batches.pop(key)
+            for item, share in batch.items():
+                if key[1] == 0:
+                    self._come_to(item, key[0])
+                else:
+                    self._go_on(item, share)
         return self._ends[(name, point)]
 
     def _begin(self, row):
         if row not in self._ends:
             self._ends[row] = {}
             self._waiting[row] = {}
+            self._waits[row] = {}
             self._put(row, self._dots.roots[row[0]], row[1], 0, 1)
+            self._add((2, 0, 0), row, 1)
 
-    def _put(self, row, dot, there, many, share):
-        """Adds a share to what comes to a dot."""
-        if share == 0 or many > self._most:
+    def _add(self, key, item, share):
+        """Adds a share of an item to those that are due."""
+        if key[0] > self._most:
             return
-        key = (many, there - row[1])
         if key not in self._batches:
             self._batches[key] = {}
             heappush(self._queue, key)
         batch = self._batches[key]
-        item = (row, dot, there, many)
         batch[item] = batch.get(item, 0) + share
 
-    def _go_on(self, row, dot, there, many, share):
+    def _put(self, row, dot, there, many, share):
+        """Adds a share to what comes to a dot."""
+        if share > 0:
+            self._add((many, 1, there - row[1]), (row, dot, there, many), share)
+
+    def _come_to(self, row, many):
+        """Adds all that is put together of shares with fewer tokens than so many, but some."""
+        self._add((many + 1, 0, 0), row, 1)
+        for other, longer in self._waits[row]:
+            sums = self._waiting[other][(row, longer)]
+            last = min(many, len(sums)) - 1
+            for there, ended in self._ends[other].items():
+                first = max(1, many - len(ended) + 1)
+                if first <= last:
+                    self._put(row, longer, there, many, _convolved(sums, ended, first, last, many))
+
+    def _go_on(self, item, share):
         """Adds to all that comes of a share at a dot."""
+        row, dot, there, many = item
         dots = self._dots
         if dots.ends[dot]:
             self._end(row, there, many, share)
@@ -239,18 +283,29 @@ class SumRows:
                 self._wait(row, (name, there), longer, many, share)
 
     def _end(self, row, there, many, share):
+        """Adds a share to the ends of a row, and to those that wait for it if it or they have no tokens."""
         ends = self._ends[row]
-        ends[(there, many)] = ends.get((there, many), 0) + share
-        for (other, longer, before), waiting in self._waiting[row].items():
-            self._put(other, longer, there, before + many, waiting * share)
+        _add_at(ends.setdefault(there, []), many, share)
+        for (other, longer), sums in self._waiting[row].items():
+            for before, waiting in enumerate(sums if many == 0 else sums[:1]):
+                self._put(other, longer, there, before + many, waiting * share)
 
     def _wait(self, row, other, longer, many, share):
-        """Goes on with where another row leads, now and as soon as more is found of it."""
+        """Has a row wait for another one, and adds to it what is found of that if it or that has no tokens."""
         self._begin(other)
         waiting = self._waiting[other]
-        waiting[(row, longer, many)] = waiting.get((row, longer, many), 0) + share
-        for (there, more), ended in self._ends[other].items():
-            self._put(row, longer, there, many + more, share * ended)
+        self._waits[row][(other, longer)] = True
+        _add_at(waiting.setdefault((row, longer), []), many, share)
+        for there, ended in self._ends[other].items():
+            for more, ended_so in enumerate(ended if many == 0 else ended[:1]):
+                self._put(row, longer, there, many + more, share * ended_so)
+
+
+def _add_at(sums, many, share):
+    """Adds to the sum for a number of tokens, in a list that has no more sums than it needs."""
+    while len(sums) <= many:
+        sums.append(0)
+    sums[many] += share
 
 
 def weighed_arcs(ground, writer, point, letter):
