@@ -71,6 +71,14 @@ class Columns:
             column.calls = self._found_calls(here)
         return column.calls
 
+    def openings(self):
+        """The ascending list of the places in the text where some name may begin."""
+        return [here for here in range(self.length() + 1) if len(self._calls(here)) > 0]
+
+    def is_whole(self):
+        """Whether what has been read is a text of the grammar."""
+        return self._columns[-1].readings > 0 if self.length() > 0 else self._dots.start in self._dots.nullable
+
     def aims(self):
         """The list of triples (dot, tail, number): what may have to come, and in how many ways.
 

@@ -43,6 +43,8 @@ class Dots:
             self._find_lefts(name)
         self.left_parts = self._parts([[other for other, _ in self.left_names[name]] for name in sorted(names)])
         self._rings = self._found_rings()
+        # The names behind which more stands in some body, as a dict of True.
+        self.inner = {name: True for steps in self.names for name, longer in steps if longer != OVER}
 
     def _new_dot(self, name):
         self.heads.append(name)
@@ -115,9 +117,12 @@ class Dots:
         parts = self._parts([leads[name] for name in sorted(leads)])
         return {name: k for k, part in enumerate(parts) for name in part}
 
-    def turns(self, dot, name):
-        """Whether a name behind a dot may lead back to the name of the dot's bodies."""
-        return self._rings[self.heads[dot]] == self._rings[name]
+    def turns(self, name, last):
+        """Whether it is of use to go through a name that comes last as a part of another one, that it may lead back to.
+
+        A name behind which more can stand is asked for by itself, too, so it is not gone through twice.
+        """
+        return last == name or last not in self.inner and self._rings[last] == self._rings[name]
 
     def dot_of(self, symbol):
         """A dot behind which just this symbol has to come, a useful name or any letter."""

@@ -1,5 +1,7 @@
 """Endings of rows, with trees."""
 
+from heapq import heappop, heappush
+
 from stillends.bodies import useful_bodies
 from stillends.chains import linked
 from stillends.checks import ask_row
@@ -24,14 +26,15 @@ def ending(task, row):
         return None
     if need > ROW_LIMIT:
         raise TooMuch("row")
-    grammar = task[0]
     ground = ground_of(task)
     text = letters_behind(task, row)
     machine, first = linked(ground.priced(), outlook.spot(), text)
+    states = [first + k for k in range(len(text))] + [outlook.spot()]
+    begins = [states[k] for k in outlook.openings()]
     goals = sum([1 << final for final in ground.finals])
-    tree, states = tight_way(grammar, machine, first, goals)
-    letters = letters_of_tree(grammar, tree)
-    return (_tokens_of(ground, letters[len(text) :], states[len(text) :]), tree)
+    tree, way = tight_way(task[0], machine, begins, goals, need)
+    letters = letters_of_tree(task[0], tree)
+    return (_tokens_of(ground, letters[len(text) :], way[len(text) :]), tree)
 
 
 def _tokens_of(ground, letters, places):
@@ -41,27 +44,42 @@ def _tokens_of(ground, letters, places):
     return tuple([spelled[step] for step in steps if spelled[step] >= 0])
 
 
-def tight_way(grammar, machine, here, goals):
-    """A pair (tree, states) of any way of the start, from a state to any of a set of states, with the least three.
+def tight_way(grammar, machine, begins, goals, price):
+    """A pair (tree, states) of any way of the start with the least three, from a state to any of a set of states.
 
-    None if there is none; TooMuch("tree"). It is as least_way_to, but goes through what comes of the least
-    prices alone; so it is fast where few ways have the least price. It looks at states with numbers from here on,
-    and at those that they lead to.
+    price is the first of the three. begins are the states where names are sure to be looked at on the way, the first
+    one that from which it leads. TooMuch("tree"). It is as least_way_to, but goes through what comes of the least
+    prices alone; so it is fast where few ways have the least price.
     """
     bodies = useful_bodies(grammar)
-    prices = Meet(bodies, machine, 0)
-    prices.settle_from(here)
-    start = bodies.part_of(grammar[1])
-    found = [three[0] for three, ends in prices.threes_of(here, start) if ends & goals > 0]
-    if len(found) == 0:
-        return None
+    here = begins[0]
+    prices = Meet(bodies, machine, 0, None, _rooms(machine, here, price))
+    # What begins later is mostly needed ahead of the rest, so it is settled first.
+    prices.settle_all(begins[::-1])
     wanted = Wanted(prices, machine)
-    wanted.want(here, start, found[0], goals)
+    wanted.want(here, bodies.part_of(grammar[1]), price, goals)
     meet = Meet(bodies, machine, 1, wanted.ends)
     three, there = meet.settle(here, grammar[1], goals)
     if three[2] > TREE_LIMIT:
         raise TooMuch("tree")
     return LeastWays(meet, machine).way(here, grammar[1], there)
+
+
+def _rooms(machine, here, price):
+    """For each state what is left of a price behind the arcs that lead to it from here, -1 if it is too far."""
+    leads = [[] for _ in range(machine[0])]
+    for begin, _, there, cost in machine[1]:
+        leads[begin].append((there, cost))
+    rooms = [-1] * machine[0]
+    queue = [(0, here)]
+    while len(queue) > 0:
+        used, state = heappop(queue)
+        if rooms[state] < price - used:
+            rooms[state] = price - used
+            for there, cost in leads[state]:
+                if rooms[there] < price - used - cost:
+                    heappush(queue, (used + cost, there))
+    return rooms
 
 
 class Wanted:
@@ -74,11 +92,13 @@ class Wanted:
         self._bodies = prices.bodies
         self._prices = prices
         self.ends = [{} for _ in range(machine[0])]
-        # For each letter and price a dict that has for each state the set of the states led to.
-        self._steps = {}
+        # For each letter and price a dict that has for each state the set of the states that lead to it.
+        self._sources = {}
         for here, letter, there, price in machine[1]:
-            leads = self._steps.setdefault(letter, {}).setdefault(price, {})
-            leads[here] = leads.get(here, 0) | 1 << there
+            sources = self._sources.setdefault(letter, {}).setdefault(price, {})
+            sources[there] = sources.get(there, 0) | 1 << here
+        # For states and parts, as they are asked for, a dict from least prices to the sets of ends with them.
+        self._levels = {}
 
     def want(self, here, part, price, ends):
         """Wants the items to any of the ends that have this as their least price, and all that they are made of."""
@@ -100,31 +120,45 @@ class Wanted:
             return [told for told in found if told[3] > 0]
         if part == 0:
             return []
-        last = bodies.lasts[part]
-        before = bodies.befores[part]
+        if is_name(bodies.lasts[part]):
+            return self._below_name(here, bodies.befores[part], bodies.part_of(bodies.lasts[part]), price, ends)
+        return self._below_letter(here, bodies.befores[part], bodies.lasts[part], price, ends)
+
+    def _below_letter(self, here, before, letter, price, ends):
+        """What items of a beginning and a letter behind it are put together of, as in _next_below."""
         found = []
-        for three, stops in self._prices.threes_of(here, before):
-            if three[0] <= price:
-                fitting = 0
-                for stop in bits(stops):
-                    got = ends & self._led(stop, last, price - three[0])
-                    if got > 0:
-                        fitting |= 1 << stop
-                        if is_name(last):
-                            found.append((stop, bodies.part_of(last), price - three[0], got))
-                if fitting > 0:
-                    found.append((here, before, three[0], fitting))
+        for cost, sources in self._sources.get(letter, {}).items():
+            stops = 0
+            for end in bits(ends):
+                stops |= sources.get(end, 0)
+            stops &= self._ends_at(here, before, price - cost)
+            if stops > 0:
+                found.append((here, before, price - cost, stops))
         return found
 
-    def _led(self, stop, symbol, price):
-        """Where a symbol leads from a state with this least price."""
-        if is_name(symbol):
-            return self._ends_at(stop, self._bodies.part_of(symbol), price)
-        return self._steps.get(symbol, {}).get(price, {}).get(stop, 0)
+    def _below_name(self, here, before, part, price, ends):
+        """What items of a beginning and a name behind it are put together of, as in _next_below."""
+        found = []
+        for cost, stops in self._levels_of(here, before).items():
+            fitting = 0
+            for stop in bits(stops):
+                got = ends & self._ends_at(stop, part, price - cost)
+                if got > 0:
+                    fitting |= 1 << stop
+                    found.append((stop, part, price - cost, got))
+            if fitting > 0:
+                found.append((here, before, cost, fitting))
+        return found
 
     def _ends_at(self, here, part, price):
-        found = 0
-        for three, ends in self._prices.threes_of(here, part):
-            if three[0] == price:
-                found |= ends
-        return found
+        return self._levels_of(here, part).get(price, 0)
+
+    def _levels_of(self, here, part):
+        """A dict from the least prices of a part from a state to the sets of ends with them."""
+        item = (here, part)
+        if item not in self._levels:
+            levels = {}
+            for three, ends in self._prices.threes_of(here, part):
+                levels[three[0]] = levels.get(three[0], 0) | ends
+            self._levels[item] = levels
+        return self._levels[item]

@@ -85,7 +85,7 @@ def _wrong_or_stuck(outlook, budget, row, choices):
     if len(row) == budget and choices != (END,):
         return "wrong"
     outlook.go_to(row)
-    return "wrong" if END in choices and outlook.need() != 0 else None
+    return "wrong" if END in choices and not outlook.is_good() else None
 
 
 def _first_lost(outlook, budget, lets, rows):
@@ -95,7 +95,7 @@ def _first_lost(outlook, budget, lets, rows):
     best = (budget + 1, ())
     for row in sorted(rows):
         outlook.go_to(row)
-        if outlook.need() == 0 and END not in lets[row]:
+        if outlook.is_good() and END not in lets[row]:
             best = min(best, (len(row), row))
         for token, need in enumerate(outlook.needs()):
             if need is not None and token not in lets[row]:

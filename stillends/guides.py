@@ -3,6 +3,7 @@
 from stillends.liveruns import Run
 from stillends.quickneeds import Lead
 
+
 class Guide(Lead):
     """A task whose grammar reads one way, for runs to be led by."""
 

@@ -82,8 +82,10 @@ class LeastWays:
         least = self._threes(here, beginning)[there]
         last = self._meet.bodies.lasts[beginning]
         before = self._threes(here, self._meet.bodies.befores[beginning])
-        found = [stop for stop in before if self._is_sum(least, before[stop], stop, last, there)]
-        return found[0]
+        for stop, three in before.items():
+            if self._is_sum(least, three, stop, last, there):
+                return stop
+        return None
 
     def _is_sum(self, least, three, stop, last, there):
         """Whether the three, and what the last symbol costs from the stop on, is the least one."""

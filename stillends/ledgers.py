@@ -77,7 +77,7 @@ class PriceRows:
                 for longer in leads:
                     self._offer(price + more, row, longer, reached)
         for name, longer in self._dots.names[dot]:
-            if longer == OVER and self._dots.turns(dot, name):
+            if longer == OVER and self._dots.turns(row[0], name):
                 self._offer(price, row, self._dots.roots[name], fresh)
             else:
                 self._wait(price, row, name, longer, fresh)
@@ -187,7 +187,7 @@ class Ledger:
                 price = 1 if token >= 0 else 0
                 found.extend([(price, (longer, tail, there)) for longer in leads])
         for name, longer in dots.names[dot]:
-            if longer == OVER:
+            if longer == OVER and name not in dots.inner:
                 found.append((0, (dots.roots[name], tail, place)))
                 continue
             for price, places in self._rows.levels(name, place):

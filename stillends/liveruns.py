@@ -10,6 +10,7 @@ from stillends.suretexts import text_ahead
 from stillends.tasks import letters_behind
 from stillends.walks import stood_texts
 
+
 class Run:
     """A run that writes a row for the task of a guide, choice by choice, from () on, and then END."""
 

@@ -3,6 +3,7 @@
 from stillends.checks import ask_row, ask_short
 from stillends.needing import outlook_at
 
+
 def mask(task, row, left):
     """The mask of the row with so many tokens left."""
     ask_row(task[1], row)
@@ -12,7 +13,7 @@ def mask(task, row, left):
 
 def mask_of(outlook, left):
     """The mask of a row, of which the outlook tells the needs, with so many tokens left."""
-    return (fitting_tokens(outlook.needs(), left), outlook.need() == 0)
+    return (fitting_tokens(outlook.needs(), left), outlook.is_good())
 
 
 def fitting_tokens(needs, left):

@@ -10,7 +10,8 @@ from stillends.closures import bits
 def prices(grammar, machine):
     """All (p, name, q, price) where the item (p, name, q) has a way and this least price, ascending."""
     meet = Meet(all_bodies(grammar), machine, 0)
-    meet.settle_from(0)
+    # Arcs lead to greater numbers more often than not, so most of what a state needs is settled ahead of it.
+    meet.settle_all(list(range(machine[0]))[::-1])
     told = []
     for here in range(machine[0]):
         for name in range(len(grammar[0])):
@@ -40,13 +41,15 @@ class Meet:
     A three is a tuple of a price, a number of letters and a number of rules. None of these becomes less
     as items are put together, so the least that is not settled yet is settled next. With size 0 letters
     and rules do not count, so that all ends with one price are settled at once. If wanted is not None it has
-    for each state a dict from parts to the set of the ends that are looked at, all others are left out.
+    for each state a dict from parts to the set of the ends that are looked at, all others are left out. If rooms is
+    not None it has for each state the greatest price that is looked at.
     """
 
-    def __init__(self, bodies, machine, size, wanted=None):
+    def __init__(self, bodies, machine, size, wanted=None, rooms=None):
         self.bodies = bodies
         self._size = size
         self._wanted = wanted
+        self._rooms = rooms
         count, arcs = machine
         # For each state and letter a dict from prices to sets of states.
         self._steps = [{} for _ in range(count)]
@@ -75,10 +78,9 @@ class Meet:
             self._begun[state] = True
             self._offer((0, 0, 0), state, 0, 1 << state)
 
-    def settle_from(self, first):
-        """Settles all there is from this state and all with greater numbers, and from those that they lead to."""
-        # Arcs lead to greater numbers more often than not, so most of what a state needs is settled ahead of it.
-        for state in range(len(self._threes) - 1, first - 1, -1):
+    def settle_all(self, states):
+        """Settles all there is from these states, one after another, and from those that they lead to."""
+        for state in states:
             self.begin_at(state)
             while len(self._queue) > 0:
                 self._settle_next()
@@ -99,6 +101,8 @@ class Meet:
 
     def _offer(self, three, here, part, ends):
         """Puts ends that are not settled into the queue."""
+        if self._rooms is not None and three[0] > self._rooms[here]:
+            return
         if self._wanted is not None and part > 0:
             ends &= self._wanted[here].get(part, 0)
             if ends == 0:

@@ -66,6 +66,14 @@ class Outlook:
         """The number of the place behind the row, LOST if none is there or no text begins with the letters read."""
         return self._spots[-1][0]
 
+    def openings(self):
+        """How many letters have been read where a name may begin: an ascending list."""
+        return self._chart.openings()
+
+    def is_good(self):
+        """Whether the row is good."""
+        return self.spot() != LOST and self._is_end(self.spot())
+
     def need(self):
         """The need of the row."""
         return None if self.spot() == LOST else self._need_at(self.spot())
@@ -77,8 +85,13 @@ class Outlook:
             self._look_on(self.spot(), found)
         return tuple(found)
 
+    def _is_end(self, place):
+        return place in self._ground.finals and self._chart.is_whole()
+
     def _need_at(self, place):
-        """The least number of tokens that end what has been read, from a place."""
+        """The least number of tokens that end what has been read, from a place at which a token may begin."""
+        if self._is_end(place):
+            return 0
         numbers = [self._ledger.least(dot, tail, place) for dot, tail, _ in self._chart.aims()]
         return min([number for number in numbers if number is not None], default=None)
 

@@ -3,6 +3,7 @@
 from stillends.checks import ask_text
 from stillends.stands import OneWay
 
+
 def next_letters(grammar, text):
     """The letters, ascending, with which some text of the grammar goes on behind the text; and whether it is one."""
     ask_text(text)

@@ -12,6 +12,7 @@ from stillends.totals import scale_at
 from stillends.treecounts import Forest
 from stillends.treenumbers import rank_of, tree_at
 
+
 def nth_pair(task, writer, budget, k):
     """Good pair number k: a tape and a tree."""
     tape, number = nth_tape(task, writer, budget, k)

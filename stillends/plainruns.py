@@ -10,6 +10,7 @@ from stillends.needing import Outlook
 from stillends.tasks import letters_behind
 from stillends.walks import stood_texts
 
+
 class PlainRun:
     """A run that writes tokens, from the row () on, and then END."""
 
@@ -68,7 +69,7 @@ class PlainRun:
         if not self._over:
             return None
         text = self.text()
-        return tight_way(self._task[0], text_machine(text, ()), 0, 1 << len(text))[0]
+        return tight_way(self._task[0], text_machine(text, ()), self._outlook.openings(), 1 << len(text), 0)[0]
 
     def write(self, choice):
         """Writes a choice of the mask."""

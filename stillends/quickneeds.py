@@ -89,6 +89,8 @@ class Lead:
 
     def least(self, cell, place):
         """The least number of tokens that it takes from a place to read what a stand derives; None if it cannot be."""
+        if place in self.ground.finals and self.one_way.may_end(cell):
+            return 0
         return self._ledger.least(OVER, self._tail_of(cell), place)
 
     def _tail_of(self, cell):

@@ -4,6 +4,7 @@ from stillends.dots import Dots
 from stillends.predicting import ask_one_way
 from stillends.stands import OneWay
 
+
 def left_ranks(grammar):
     """For each name the most steps in a chain of names each of which leads on to the next; None for a useless one."""
     ask_one_way(grammar)

@@ -4,6 +4,7 @@ from stillends.errors import NotUsable
 from stillends.letters import is_letter
 from stillends.stands import OneWay, symbols_of
 
+
 class Reader:
     """An object that reads letters as long as some text of the grammar begins with them."""
 

@@ -8,6 +8,7 @@ from stillends.needing import outlook_at
 from stillends.spellers import border_behind, priced, speller
 from stillends.tasks import letters_behind
 
+
 def why_not(task, row, left):
     """A table that shows that the row has no ending of at most left tokens; None if it has one."""
     _ask(task, row, left)

@@ -4,6 +4,7 @@ from stillends.checks import ask_row, ask_short
 from stillends.letters import END
 from stillends.totals import scale_at
 
+
 def step_weights(task, writer, budget, row):
     """Of the good pairs that say a row that begins with row: how many have each token next, and how many say row."""
     ask_short(budget, "budget")

@@ -7,6 +7,7 @@ from stillends.limits import TREE_LIMIT
 from stillends.quickneeds import Lead
 from stillends.suretexts import ask_ending, led_on, spots_behind
 
+
 def sure_rules(task, row, left):
     """The longest tuple of rules with which all trees of endings of at most left tokens go on, behind those read."""
     ask_row(task[1], row)

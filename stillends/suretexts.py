@@ -4,6 +4,7 @@ from stillends.checks import ask_row, ask_short
 from stillends.errors import NoEnding
 from stillends.quickneeds import Lead
 
+
 def sure_text(task, row, left):
     """The longest text with which all that is read in endings of at most left tokens begins."""
     ask_row(task[1], row)

@@ -162,7 +162,7 @@ class SumLedger:
             for there, more, weight in weighed_arcs(self._ground, self._writer, point, letter):
                 steps.extend([((longer, tail, there), more, weight) for longer in leads])
         for name, longer in dots.names[dot]:
-            if longer == OVER:
+            if longer == OVER and name not in dots.inner:
                 steps.append(((dots.roots[name], tail, point), 0, 1))
             else:
                 ends = self._rows.row_ends(name, point)
@@ -277,7 +277,7 @@ class SumRows:
                 for longer in leads:
                     self._put(row, longer, led, many + more, share * weight)
         for name, longer in dots.names[dot]:
-            if longer == OVER and dots.turns(dot, name):
+            if longer == OVER and dots.turns(row[0], name):
                 self._put(row, dots.roots[name], there, many, share)
             else:
                 self._wait(row, (name, there), longer, many, share)

@@ -5,6 +5,7 @@ from stillends.ledgers import Ledger
 from stillends.spellers import Ground
 from stillends.stands import ask_stand
 
+
 def stand_vector(task, stand):
     """For each place the least number of tokens finished on a way to a final that reads what the stand derives."""
     grammar, tokens, book, begun, mode = task

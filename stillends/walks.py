@@ -5,6 +5,7 @@ from stillends.masks import mask_of
 from stillends.needing import outlook_at
 from stillends.orders import by_length
 
+
 def stood_at(task, row, left):
     """The inner texts, by length, that can stand behind the row on the way to an ending of at most left tokens."""
     ask_row(task[1], row)

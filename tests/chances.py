@@ -94,6 +94,17 @@ def rich_task(chance, grammar, letters="ab", most=5):
     return (grammar, tokens, book, begun, chance.choice(MODES))
 
 
+def ring_grammar(many):
+    """So many names, each of which derives an a, an x ahead of two of these, or two of these about a y."""
+    rules = []
+    for k in range(many):
+        parts = ((k + 1,), ("x", k * 7 + 3, k * 11 + 5), (k * 13 + 2, "y", k * 5 + 1))
+        rules.extend([(k, tuple(s if isinstance(s, str) else s % many for s in part)) for part in parts])
+        if k == many // 3:
+            rules.append((k, ("a",)))
+    return (tuple(f"n{k}" for k in range(many)), 0, tuple(rules))
+
+
 def some_row(chance, task, most=3):
     return tuple(chance.randrange(len(task[1])) for _ in range(chance.randint(0, most)))
 

@@ -8,7 +8,8 @@ from stillends.tasks import is_good, letters_read
 from stillends.trees import is_of_grammar
 from stillends.treetexts import tree_text
 from tests.chances import (
-    DOUBLE, LEFT, LISTS, NO_TEXTS, PALINDROMES, REGULAR, known_tasks, rich_grammar, rich_task, some_row,
+    DOUBLE, LEFT, LISTS, NO_TEXTS, PALINDROMES, REGULAR, known_tasks, rich_grammar, rich_task, ring_grammar,
+    some_row,
 )
 from tests.helpers import BAD_ROWS, CUTS, FREE, FREE2, NEST, TASK, Case
 from tests.plainly import least_three_of, need_by_ways, rests_of
@@ -119,6 +120,19 @@ class EndingTest(Case):
         self.same((rest, len(tree)), ((), 119))
         lists = (LISTS, tuple("abcd") + ("cc", "ba"), (1, (0,), ((0,) * 6,)), "b" * 100 + "a", "behind")
         self.same(ending(lists, ())[0], (4,) * 50)
+
+    def test_long_texts(self):
+        for grammar, rules in ((REGULAR, 1121), (LEFT, 1121), (PALINDROMES, 561)):
+            rest, tree = ending((grammar, ("a" * 12, "b"), FREE2, "a" * 400, "behind"), (0,) * 60)
+            self.same((rest, tree_text(grammar, tree), len(tree)), ((), "a" * 1120, rules))
+
+    def test_names_that_all_lead_to_one_another(self):
+        task = (ring_grammar(60), ("a", "x", "y", "ya", "xx"), (1, (0,), ((0,) * 5,)), "x" * 12, "behind")
+        for row, fewest in (((), 13), ((1,), 14), ((4,), 15), ((0,), 12)):
+            rest, tree = ending(task, row)
+            self.same((len(rest), need(task, row)), (fewest, fewest))
+            self.assertTrue(is_of_grammar(task[0], tree))
+            self.same(tree_text(task[0], tree), letters_read(task, row + rest))
 
     def test_refuses(self):
         self.refuses_all("NotUsable('row')", ending, (TASK,), BAD_ROWS)

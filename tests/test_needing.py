@@ -5,7 +5,8 @@ import random
 from stillends.needing import need, needs
 from stillends.tasks import is_good
 from tests.chances import (
-    DOUBLE, DYCK, LEFT, LISTS, NO_TEXTS, PALINDROMES, REGULAR, known_tasks, rich_grammar, rich_task, some_row,
+    DOUBLE, DYCK, LEFT, LISTS, NO_TEXTS, PALINDROMES, REGULAR, known_tasks, rich_grammar, rich_task, ring_grammar,
+    some_row,
 )
 from tests.helpers import BAD_ROWS, CUTS, FREE, FREE2, NEST, PART, TASK, Case, rows_upto
 from tests.plainly import need_by_rows, need_by_ways
@@ -132,6 +133,13 @@ class NeedTest(Case):
         begun = "badab" * 40
         self.same(need((LISTS, tuple("abcd"), (1, (0,), ((0,) * 4,)), "badb" * 60, "behind"), ()), 120)
         self.same(need((LISTS, tuple("abcd"), (1, (0,), ((0,) * 4,)), begun, "behind"), ()), None)
+
+    def test_names_that_all_lead_to_one_another(self):
+        book = (1, (0,), ((0,) * 5,))
+        for many in (6, 60):
+            task = (ring_grammar(many), ("a", "x", "y", "ya", "xx"), book, "x" * 20, "behind")
+            self.same((need(task, ()), needs(task, (1,))), (21, (21, 23, None, None, 24)))
+            self.same(needs(task, (0,)), (19, 21, 21, 20, 22))
 
     def test_refuses(self):
         # Also where the grammar has no text.
