@@ -47,9 +47,20 @@ def _tokens_of(ground, letters, places):
 def tight_way(grammar, machine, begins, goals, price):
     """A pair (tree, states) of any way of the start with the least three, from a state to any of a set of states.
 
-    price is the first of the three. begins are the states where names are sure to be looked at on the way, the first
-    one that from which it leads. TooMuch("tree"). It is as least_way_to, but goes through what comes of the least
-    prices alone; so it is fast where few ways have the least price.
+    begins are the states where names are sure to be looked at on the way, the first one that from which it leads.
+    TooMuch("tree"). It is as least_way_to, but fast where few ways have the least price, the first of the three.
+    """
+    ways, three, there = tight_ways(grammar, machine, begins, grammar[1], goals, price)
+    if three[2] > TREE_LIMIT:
+        raise TooMuch("tree")
+    return ways.way(begins[0], grammar[1], there)
+
+
+def tight_ways(grammar, machine, begins, name, goals, price):
+    """The least ways of a useful name, from the first of begins to any of a set of states, with this least price.
+
+    Told are a LeastWays, the least three and the state that is led to. It goes through what comes of the least prices
+    alone.
     """
     bodies = useful_bodies(grammar)
     here = begins[0]
@@ -57,12 +68,16 @@ def tight_way(grammar, machine, begins, goals, price):
     # What begins later is mostly needed ahead of the rest, so it is settled first.
     prices.settle_all(begins[::-1])
     wanted = Wanted(prices, machine)
-    wanted.want(here, bodies.part_of(grammar[1]), price, goals)
+    wanted.want(here, bodies.part_of(name), price, goals)
     meet = Meet(bodies, machine, 1, wanted.ends)
-    three, there = meet.settle(here, grammar[1], goals)
-    if three[2] > TREE_LIMIT:
-        raise TooMuch("tree")
-    return LeastWays(meet, machine).way(here, grammar[1], there)
+    three, there = meet.settle(here, name, goals)
+    return (LeastWays(meet, machine), three, there)
+
+
+def paid_arcs(grammar, machine, here, name, goals, price):
+    """The list of the arcs with prices, in sequence, of a way of a useful name as tight_ways tells it."""
+    ways, _, there = tight_ways(grammar, machine, [here], name, goals, price)
+    return ways.paid_arcs(here, name, there)
 
 
 def _rooms(machine, here, price):

@@ -4,7 +4,7 @@ from stillends.checks import is_below, is_tuple_of
 from stillends.errors import InvalidPaper
 from stillends.letters import is_letter, is_word
 
-_BODY_LIMIT = 12
+BODY_LIMIT = 12
 
 
 def lets_grammar(thing):
@@ -48,7 +48,7 @@ def _ask_rules(rules, many):
 
 
 def _is_body(symbols, many):
-    if len(symbols) > _BODY_LIMIT:
+    if len(symbols) > BODY_LIMIT:
         return False
     return all([is_below(symbol, many) or is_letter(symbol) for symbol in symbols])
 

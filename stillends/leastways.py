@@ -62,26 +62,47 @@ class LeastWays:
                 states.append(end)
         return (tuple(tree), tuple(states))
 
+    def paid_arcs(self, here, name, there):
+        """The list of the arcs with prices, (here, letter, there) each, of a way of the item that has its least three.
+
+        What is without a price is not gone through, as it may be of any size.
+        """
+        arcs = []
+        due = [(here, name, there)]
+        while len(due) > 0:
+            begin, symbol, end = due.pop()
+            if is_name(symbol):
+                if self.threes(begin, self._meet.bodies.part_of(symbol))[end][0] > 0:
+                    due.extend(self._rule_and_symbols(begin, symbol, end)[1])
+            elif dict(self._steps[symbol][begin])[end] > 0:
+                arcs.append((begin, symbol, end))
+        return arcs
+
     def _rule_and_symbols(self, here, name, there):
         """The rule at the root of a least tree of the item, and where its symbols lead, the last one first."""
         bodies = self._meet.bodies
-        price, letters, rules = self._threes(here, bodies.part_of(name))[there]
-        least = (price, letters, rules - 1)
-        fitting = [pair for pair in bodies.wholes[name] if self._threes(here, pair[1]).get(there) == least]
+        price, letters, rules = self.threes(here, bodies.part_of(name))[there]
+        least = (price - self._meet.toll, letters, rules - self._meet.size)
+        fitting = [pair for pair in bodies.wholes[name] if self.threes(here, pair[1]).get(there) == least]
         rule, beginning = fitting[0]
-        below = []
+        return (rule, self.symbols_along(here, beginning, there))
+
+    def symbols_along(self, here, beginning, there):
+        """Where the symbols of a beginning lead on a least way: triples (from, symbol, to), the last one first."""
+        bodies = self._meet.bodies
+        found = []
         while beginning != 0:
             stop = self._stop(here, beginning, there)
-            below.append((stop, bodies.lasts[beginning], there))
+            found.append((stop, bodies.lasts[beginning], there))
             there = stop
             beginning = bodies.befores[beginning]
-        return (rule, below)
+        return found
 
     def _stop(self, here, beginning, there):
         """A state in which the last symbol of the beginning may begin, so that its least three comes out."""
-        least = self._threes(here, beginning)[there]
+        least = self.threes(here, beginning)[there]
         last = self._meet.bodies.lasts[beginning]
-        before = self._threes(here, self._meet.bodies.befores[beginning])
+        before = self.threes(here, self._meet.bodies.befores[beginning])
         for stop, three in before.items():
             if self._is_sum(least, three, stop, last, there):
                 return stop
@@ -90,12 +111,13 @@ class LeastWays:
     def _is_sum(self, least, three, stop, last, there):
         """Whether the three, and what the last symbol costs from the stop on, is the least one."""
         if is_name(last):
-            other = self._threes(stop, self._meet.bodies.part_of(last)).get(there)
+            other = self.threes(stop, self._meet.bodies.part_of(last)).get(there)
             return other is not None and sum_of(three, other) == least
         arcs = self._steps.get(last, {}).get(stop, [])
-        return any([led == there and sum_of(three, (price, 1, 0)) == least for led, price in arcs])
+        size = self._meet.size
+        return any([led == there and sum_of(three, (price, size, 0)) == least for led, price in arcs])
 
-    def _threes(self, here, part):
+    def threes(self, here, part):
         """The dict from ends to threes for a part from a state."""
         if (here, part) not in self._known:
             settled = self._meet.threes_of(here, part)

@@ -42,12 +42,13 @@ class Meet:
     as items are put together, so the least that is not settled yet is settled next. With size 0 letters
     and rules do not count, so that all ends with one price are settled at once. If wanted is not None it has
     for each state a dict from parts to the set of the ends that are looked at, all others are left out. If rooms is
-    not None it has for each state the greatest price that is looked at.
+    not None it has for each state the greatest price that is looked at. The toll is the price of each rule.
     """
 
-    def __init__(self, bodies, machine, size, wanted=None, rooms=None):
+    def __init__(self, bodies, machine, size, wanted=None, rooms=None, toll=0):
         self.bodies = bodies
-        self._size = size
+        self.size = size
+        self.toll = toll
         self._wanted = wanted
         self._rooms = rooms
         count, arcs = machine
@@ -142,7 +143,7 @@ class Meet:
         bodies = self.bodies
         price, letters, rules = three
         for name in bodies.ends[beginning]:
-            self._offer((price, letters, rules + self._size), here, bodies.part_of(name), ends)
+            self._offer((price + self.toll, letters, rules + self.size), here, bodies.part_of(name), ends)
         if len(bodies.by_letter[beginning]) + len(bodies.by_name[beginning]) == 0:
             return
         for stop in bits(ends):
@@ -150,7 +151,7 @@ class Meet:
                 still = ~self._ends[here].get(longer, 0)
                 for more, states in self._steps[stop].get(letter, {}).items():
                     if states & still > 0:
-                        self._offer((price + more, letters + self._size, rules), here, longer, states & still)
+                        self._offer((price + more, letters + self.size, rules), here, longer, states & still)
             for name, longer in bodies.by_name[beginning]:
                 self.begin_at(stop)
                 self._waiting.setdefault((stop, longer), []).append((here, three))

@@ -66,6 +66,10 @@ class Outlook:
         """The number of the place behind the row, LOST if none is there or no text begins with the letters read."""
         return self._spots[-1][0]
 
+    def is_begun(self):
+        """Whether some text of the grammar begins with the letters read, and a place is behind the row."""
+        return self.spot() != LOST
+
     def openings(self):
         """How many letters have been read where a name may begin: an ascending list."""
         return self._chart.openings()
@@ -84,6 +88,13 @@ class Outlook:
         if self.spot() != LOST:
             self._look_on(self.spot(), found)
         return tuple(found)
+
+    def begun_by(self):
+        """The tokens, ascending, with which the letters read begin some text of the grammar, and a place is behind."""
+        found = []
+        if self.spot() != LOST:
+            self._spell_on(self.spot(), found)
+        return sorted(found)
 
     def _is_end(self, place):
         return place in self._ground.finals and self._chart.is_whole()
@@ -105,4 +116,16 @@ class Outlook:
                         found[token] = self._need_at(there)
                     else:
                         self._look_on(there, found)
+                self._chart.cut(length)
+
+    def _spell_on(self, place, found):
+        """Notes the tokens that can be spelled from here on, as far as some text goes on with them."""
+        length = self._chart.length()
+        for letter, arcs in self._ground.steps[place].items():
+            if self._chart.push(letter):
+                for there, token in arcs:
+                    if token >= 0:
+                        found.append(token)
+                    else:
+                        self._spell_on(there, found)
                 self._chart.cut(length)

@@ -15,7 +15,12 @@ from stillends.treenumbers import rank_of, tree_at
 
 def nth_pair(task, writer, budget, k):
     """Good pair number k: a tape and a tree."""
-    tape, number = nth_tape(task, writer, budget, k)
+    return pair_of(task, writer, nth_tape(task, writer, budget, k))
+
+
+def pair_of(task, writer, numbered):
+    """A good pair, from its tape and the number of its tree among those of its text; TooMuch("tree")."""
+    tape, number = numbered
     grammar = task[0]
     text = letters_behind(task, said(writer, tape)[0])
     return (tape, tree_at(grammar, Forest(grammar, text), len(text), number))
@@ -24,9 +29,18 @@ def nth_pair(task, writer, budget, k):
 def nth_tape(task, writer, budget, k):
     """The tape of good pair number k, and the number of its tree among those of its text."""
     ask_short(budget, "budget")
+    ask_number(k)
+    return tape_at(scale_at(task, writer, budget, ()), writer, budget, k)
+
+
+def ask_number(k):
+    """NotUsable("k") if k is no number."""
     if not is_number(k):
         raise NotUsable("k")
-    scale = scale_at(task, writer, budget, ())
+
+
+def tape_at(scale, writer, budget, k):
+    """What nth_tape tells, by a scale that is at the row (); it does not stay there."""
     pairs = scale.total(budget)
     if pairs == 0:
         raise NoTape()
@@ -72,14 +86,21 @@ def rank_pair(task, writer, budget, tape, tree):
     ask_no_loop(task[0])
     if not are_good_pair(task, writer, budget, tape, tree):
         return None
-    scale = scale_at(task, writer, budget, ())
+    return rank_at(scale_at(task, writer, budget, ()), writer, budget, tape) + rank_of(task[0], tree)
+
+
+def rank_at(scale, writer, budget, tape):
+    """How many good pairs have a lesser tape than this one, by a scale that is at the row (); it does not stay there.
+
+    The tape is that of a good pair.
+    """
     rank = 0
     for at, digit in enumerate(tape):
         left = budget - at
         rank += _pairs_below(scale, writer, left, digit)
         choice = chosen(scale.shares(), digit)
         if choice == END:
-            return rank + _number_of(tape[at + 1 :], writer[0]) * scale.trees() + rank_of(task[0], tree)
+            return rank + _number_of(tape[at + 1 :], writer[0]) * scale.trees()
         scale.write(choice)
     return None
 

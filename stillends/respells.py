@@ -9,11 +9,15 @@ from stillends.tries import token_numbers
 def rows_of(task, text):
     """All good rows behind which the text is the letters read, by length."""
     ask_text(text)
-    grammar, tokens, book, begun, mode = task
-    if not text.startswith(begun) or not is_derived(grammar, text):
+    if not text.startswith(task[3]) or not is_derived(task[0], text):
         return ()
-    spelled = text[len(begun) :] if mode == "behind" else text
-    return tuple(by_length(Rows(tokens, book, spelled).listed()))
+    return tuple(by_length(rows_that_spell(task, text).listed(None)))
+
+
+def rows_that_spell(task, text):
+    """The rows that the book takes and behind which a text that begins with begun is the letters read."""
+    _, tokens, book, begun, mode = task
+    return Rows(tokens, book, text[len(begun) :] if mode == "behind" else text)
 
 
 class Rows:
@@ -40,15 +44,15 @@ class Rows:
             return state in self._finals
         return len(self._steps[at][state]) > 0
 
-    def listed(self):
-        """The list of the rows."""
+    def listed(self, most):
+        """The list of the rows; of so many of them, any, if most is not None and there are more."""
         rows = []
         row = []
         # For each token of the row, and for the next one, what may still stand in its place, the next one last.
         due = [self._choices(0, 0)]
         if self._length == 0 and self._goes_on(0, 0):
             rows.append(())
-        while len(due) > 0:
+        while len(due) > 0 and len(rows) != most:
             if len(due[-1]) == 0:
                 due.pop()
                 del row[-1:]

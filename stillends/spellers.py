@@ -111,6 +111,7 @@ class Ground:
     def __init__(self, tokens, book, begun, mode):
         self._tokens = tokens
         self._begun = begun
+        self._mode = mode
         self._table = book[2]
         self._places, finals, self.arcs = speller(tokens, book, begun, mode)
         self._numbers = {place: k for k, place in enumerate(self._places)}
@@ -123,6 +124,11 @@ class Ground:
         """The machine of the places in which an arc costs 1 if it finishes a token, else 0."""
         arcs = [(here, letter, there, 1 if token >= 0 else 0) for here, letter, there, token in self.arcs]
         return (self.many, tuple(arcs))
+
+    def is_border(self, place):
+        """Whether the place is a border: no token is being spelled there, and in "behind" begun has been passed."""
+        passed, _, written = self._places[place]
+        return written == "" and (self._mode != "behind" or passed == len(self._begun))
 
     def led(self, place, token):
         """The place to which a token leads from one at which tokens begin; LOST if it leads to none."""

@@ -9,10 +9,14 @@ def step_weights(task, writer, budget, row):
     """Of the good pairs that say a row that begins with row: how many have each token next, and how many say row."""
     ask_short(budget, "budget")
     ask_row(task[1], row)
-    scale = scale_at(task, writer, budget, row)
+    return weights_at(scale_at(task, writer, budget, row), writer, budget, row)
+
+
+def weights_at(scale, writer, budget, row):
+    """What step_weights tells, by a scale that is at the row."""
     left = budget - len(row)
     if left < 0:
-        return (0,) * (len(task[1]) + 1)
+        return (0,) * len(scale.shares())
     said = _product(writer, row)
     return tuple([said * pairs for pairs in choice_pairs(scale, writer, left)])
 
@@ -38,7 +42,11 @@ def row_pairs(task, writer, budget, row):
     """How many good pairs say the row."""
     ask_short(budget, "budget")
     ask_row(task[1], row)
-    scale = scale_at(task, writer, budget, row)
+    return pairs_at(scale_at(task, writer, budget, row), writer, budget, row)
+
+
+def pairs_at(scale, writer, budget, row):
+    """What row_pairs tells, by a scale that is at the row."""
     left = budget - len(row)
     return 0 if left < 0 else _product(writer, row) * scale.shares()[END] * free_pairs(scale, writer, left)
 

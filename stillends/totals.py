@@ -25,15 +25,14 @@ def scale_at(task, writer, most, row):
     """The scale of a task at a row of any length, which is not checked; Looped if a name is looped."""
     ask_no_loop(task[0])
     scale = Scale(task, writer, most)
-    for token in row:
-        scale.write(token)
+    scale.go_to(row)
     return scale
 
 
 class Scale:
-    """A row of a task that can be gone on with, and how many pairs come behind it with up to so many tokens left.
+    """A row of a task that can be gone on with and cut, and how many pairs come behind it with tokens left.
 
-    No useful name of the grammar may be looped.
+    So many tokens may be left as are told when it is made. No useful name of the grammar may be looped.
     """
 
     def __init__(self, task, writer, most):
@@ -45,36 +44,52 @@ class Scale:
         self._ground = ground_of(task)
         self._ledger = SumLedger(dots, tails, self._ground, writer, most)
         self._chart = CountChart(grammar, dots, tails)
-        self._state = 0
+        self._row = []
         begins = dots.start in dots.roots and self._chart.reads(ahead_of(task))
-        self._place = 0 if begins else LOST
+        # Behind each beginning of the row the place, the state of the writer, and how many letters have been read.
+        self._spots = [(0 if begins else LOST, 0, self._chart.length())]
+
+    def go_to(self, row):
+        """Takes this row in the place of the one that was there."""
+        same = 0
+        while same < min(len(row), len(self._row)) and row[same] == self._row[same]:
+            same += 1
+        del self._row[same:]
+        del self._spots[same + 1 :]
+        self._chart.cut(self._spots[-1][2])
+        for token in row[same:]:
+            self.write(token)
 
     def write(self, token):
         """Writes the token behind the row."""
-        if self._place != LOST:
-            self._place = self._ground.led(self._place, token)
-        if self._place != LOST and not self._chart.reads(self._tokens[token]):
-            self._place = LOST
-        self._state = self._writer[2][self._state][token]
+        place, state, _ = self._spots[-1]
+        self._row.append(token)
+        if place != LOST:
+            place = self._ground.led(place, token)
+        if place != LOST and not self._chart.reads(self._tokens[token]):
+            place = LOST
+        self._spots.append((place, self._writer[2][state][token], self._chart.length()))
 
     def total(self, left):
         """How many pairs there are of digits and a tree, with so many tokens left."""
-        return 0 if self._place == LOST else self._total_at(self._place, self._state, left)
+        place, state, _ = self._spots[-1]
+        return 0 if place == LOST else self._total_at(place, state, left)
 
     def totals(self, left):
         """For each token the total behind the row with it, with so many tokens left behind that."""
         found = [0] * len(self._tokens)
-        if self._place != LOST:
-            self._look_on(self._place, left, found)
+        place = self._spots[-1][0]
+        if place != LOST:
+            self._look_on(place, left, found)
         return tuple(found)
 
     def trees(self):
         """How many trees of the grammar have the letters read as their text if the row is good; otherwise 0."""
-        return self._chart.trees() if self._place in self._ground.finals else 0
+        return self._chart.trees() if self._spots[-1][0] in self._ground.finals else 0
 
     def shares(self):
         """The weights of the choices behind the row, that of END last."""
-        return self._writer[1][self._state]
+        return self._writer[1][self._spots[-1][1]]
 
     def _total_at(self, place, state, left):
         point = place * len(self._writer[1]) + state
@@ -84,11 +99,12 @@ class Scale:
     def _look_on(self, place, left, found):
         """Finds the totals behind each token that can be spelled from here on; tokens that begin alike together."""
         length = self._chart.length()
+        nexts = self._writer[2][self._spots[-1][1]]
         for letter, arcs in self._ground.steps[place].items():
             if self._chart.push(letter):
                 for there, token in arcs:
                     if token >= 0:
-                        found[token] = self._total_at(there, self._writer[2][self._state][token], left)
+                        found[token] = self._total_at(there, nexts[token], left)
                     else:
                         self._look_on(there, left, found)
                 self._chart.cut(length)

@@ -2,11 +2,19 @@
 
 import unittest
 
+from stillends.besttapes import likeliest
 from stillends.books import free_book, lets_book, runs, takes
 from stillends.canon import canon_book, longest_row
+from stillends.carelessrows import careless, careless_choices
 from stillends.carries import carry
+from stillends.ceilings import judge_likeliest
 from stillends.chains import chained
 from stillends.closedlists import closed_list, items_of
+from stillends.commands import play
+from stillends.couples import couple, kept
+from stillends.cutweights import cut_same, cut_share
+from stillends.distances import distance
+from stillends.drafts import Drafted
 from stillends.endings import ending
 from stillends.errors import StillError
 from stillends.faults import fault, mask_custom, safe_customs
@@ -14,22 +22,33 @@ from stillends.firsts import first_letters
 from stillends.firsttrees import own_tape
 from stillends.floors import cut_table, floor_holds
 from stillends.follows import follow_letters
+from stillends.formvalues import count_values, fits
 from stillends.goodpairs import is_good_pair
 from stillends.grammars import lets_grammar
+from stillends.grammartexts import grammar_lines, read_grammar
 from stillends.guides import Guide
 from stillends.insides import inside
+from stillends.judges import judge
 from stillends.leastways import least_way, way_price
 from stillends.letters import END, is_letter, is_number, is_text
+from stillends.libraries import Library
 from stillends.listings import texts_upto
+from stillends.longestrows import longest
+from stillends.lostrows import lost_within
 from stillends.machines import lets_machine, text_price
 from stillends.masks import mask, settled
+from stillends.meankept import mean_kept
+from stillends.meanlengths import mean_length
 from stillends.meets import least_three, prices
 from stillends.members import begins, in_grammar, spans_of
 from stillends.needing import need, needs
 from stillends.nextletters import next_letters, sure_beginning
 from stillends.nulls import first_looped, least_letters, nullable_names
+from stillends.onerow import one_row
 from stillends.pairbooks import pairs_book
 from stillends.pairnumbers import nth_pair, rank_pair
+from stillends.patternmachines import first_parted, pattern_grammar, pattern_machine
+from stillends.patterns import lets_pattern, matches
 from stillends.plainruns import PlainRun
 from stillends.predicting import first_clash, predicts, reads_one_way
 from stillends.quickneeds import quick_need, quick_needs
@@ -38,15 +57,22 @@ from stillends.readers import Reader
 from stillends.readings import read_tree
 from stillends.refusals import judge_why_not, why_not
 from stillends.respells import rows_of
+from stillends.setmachines import machine_of
+from stillends.sheetgrammars import form_grammar
+from stillends.sheets import first_signs, lets_sheet
 from stillends.shortest import shortest_taken, shortest_text
+from stillends.sparing import needless
+from stillends.spelledall import spelled_all
 from stillends.spellers import place_behind, priced, speller
 from stillends.stands import may_end, push_letter, stand_behind
+from stillends.steering import Steered
 from stillends.stepweights import row_pairs, step_weights
 from stillends.surerules import sure_rules
 from stillends.suretexts import sure_text
 from stillends.tapes import choice_of, says, tapes_of
 from stillends.tasks import is_good, letters_read, lets_task
 from stillends.tokenlists import is_row, lets_tokens, row_text
+from stillends.tokentexts import book_lines, read_book, read_tokens, token_lines
 from stillends.totals import total
 from stillends.treecounts import count_trees
 from stillends.treenumbers import nth_tree, rank_tree
@@ -54,8 +80,10 @@ from stillends.trees import grafted, is_of_grammar, kids, lets_tree
 from stillends.treetexts import spans, tree_text
 from stillends.tries import inner_texts, token_number
 from stillends.usefulness import least_tree, useful_parts
+from stillends.valuetexts import text_value, value_text
 from stillends.vectors import stand_vector
 from stillends.walks import stood_at
+from stillends.weightrows import lets_weights
 from stillends.writers import even_writer, lets_writer, state_behind
 from tests.helpers import told
 
@@ -273,6 +301,78 @@ EXAMPLES = """
     >>> ONE = (TWICE, ("a",), (1, (0,), ((0,),)), "", "behind")
     >>> own_tape(ONE, (2, ((1, 1),), ((0,),)), 1, 0), own_tape(ONE, (2, ((1, 1),), ((0,),)), 1, 1)
     ((0, 1), None)
+    >>> TASK = (NEST, CUTS, FREE, "", "behind")
+    >>> mean_length(TASK, EVEN, 1)
+    (1, 5)
+    >>> mean_length(TASK, (1, ((1, 0, 0, 0),), ((0, 0, 0),)), 2)
+    raises NoTape
+    >>> likeliest(TASK, EVEN, 1)[:2]
+    ((), 4)
+    >>> judge_likeliest(TASK, EVEN, 0, ((), 1, ((1, 0, 0, 1, 0, 0, 1), (0, 0, 0, 0, 0, 0, 1))))
+    True
+    >>> judge_likeliest(TASK, EVEN, 0, ((), 1, ((0, 0, 0, 0, 0, 0, 1),)))
+    False
+    >>> steered = Steered(TASK, EVEN, 1)
+    >>> steered.total(), steered.weights(()), steered.nth(4)
+    (5, (0, 0, 1, 4), ((3, 3), (0,)))
+    >>> LOW = (NEST, LONE, FREE2, "", "behind")
+    >>> machine_of(LOW, "spelled")
+    ((3, ((0, 'a', 1, 1), (0, 'b', 2, 1), (1, 'a', 1, 1), (1, 'b', 0, 1), (2, 'a', 2, 1), (2, 'b', 2, 1))), (2,))
+    >>> spelled_all(LOW)[:2]
+    ('none', 'aabb')
+    >>> told = one_row(TASK)
+    >>> told[:2], sorted(told[2:4])
+    (('two', 'ab'), [(0, 1), (2,)])
+    >>> needless(TASK, (2,))[0], needless(TASK, (1,))[:2]
+    ('needless', ('needed', 'aabb'))
+    >>> careless_choices(LOW, ()), careless_choices(LOW, (0,))
+    ((-1, 0, 1), (0, 1))
+    >>> careless(LOW)[:2], careless(TASK)[0]
+    (('lost', (0,)), 'never')
+    >>> lost_within(LOW, 3), lost_within(TASK, 2)
+    ((0,), None)
+    >>> longest((PAIRS, CUTS, FREE, "", "healed"))[:2]
+    ('most', (0, 0))
+    >>> judge(TASK, "longest", ("endless", ((-1,), (1, -1), (0,))))
+    True
+    >>> lets_weights((0, 2, True))
+    raises InvalidPaper('number', 2)
+    >>> couple((3, 1), (1, 1), 5), couple((3, 1), (1, 1), 6), kept((3, 1), (1, 1))
+    ((1, 1), (1, 0), 6)
+    >>> mean_kept(TASK, EVEN, 1, EVEN)
+    (1, 2)
+    >>> d = Drafted(TASK, EVEN, 1, EVEN)
+    >>> d.total(), d.propose(12), d.row(), d.total()
+    (20, (2, 2), (2,), 4)
+    >>> d.propose(0), d.ended(), d.total()
+    ((0, -1), True, 0)
+    >>> cut_share(TASK, EVEN, 1, (2,)), cut_same(TASK, EVEN, 1)
+    ((1, 2), ('unlike', ()))
+    >>> distance(TASK, EVEN, 1)
+    (3, 10)
+    >>> lets_sheet((("or", (("of", 1),)), ("of", 1)))
+    raises InvalidPaper('round', 1)
+    >>> FORMS = (("record", (("n", ("of", 0), False), ("ok", ("truth",), True))),)
+    >>> fits(FORMS, (("ok", 1),)), count_values(FORMS), count_values((("list", ("of", 0), 1, 2),))
+    (False, None, 0)
+    >>> value_text(FORMS, (("n", (("ok", True),)), ("ok", False)))
+    '{"n":{"ok":true},"ok":false}'
+    >>> text_value((("whole", 2),), "-0")
+    raises NoValue
+    >>> lets_pattern(("row", (("maybe", ("letter", "a")), ("letter", "b"))))
+    4
+    >>> pattern_machine(("plus", ("or", (("letter", "b"), ("row", (("letter", "a"), ("letter", "b")))))))
+    (3, (2,), ((0, 'a', 1), (0, 'b', 2), (1, 'b', 2), (2, 'a', 1), (2, 'b', 2)))
+    >>> first_parted(("star", ("letter", "a")), ("maybe", ("letter", "a")))
+    'aa'
+    >>> grammar_lines(NEST)
+    "start s\\ns = - | 'a' s 'b'"
+    >>> book_lines(CUTS, (2, (), ((1, -1, 0), (0, 0, 0))))
+    '2:\\n1 -1 0\\n0 0 0'
+    >>> house = Library()
+    >>> house.put("task", "t", TASK)
+    >>> play(house, "need t 0\\nmask t 2 -\\nrun t 2 2,-1\\nneed u -\\nneed t  -")
+    ('need 1', 'mask 0,2,-1', 'ended 2', 'refused NoSuch', 'unknown')
 """
 
 
@@ -305,3 +405,10 @@ class ExamplesTest(unittest.TestCase):
         self.assertEqual(nullable_names((("s",), 0, ((0, ()),))), (0,))
         self.assertTrue(in_grammar((("s",), 0, ((0, ()),)), ""))
         self.assertEqual(lets_task(((("s",), 0, ()), ("a",), free_book(("a",)), "", "behind")), 1)
+        self.assertEqual(first_signs((("none",),), 0), ("n",))
+        self.assertEqual(form_grammar((("list", ("of", 0), 1, 2),))[2], ())
+        self.assertTrue(matches(("row", ()), ""))
+        self.assertEqual(pattern_grammar(("row", ())), (("q0",), 0, ((0, ()),)))
+        self.assertEqual(read_grammar("start s\ns ="), (("s",), 0, ()))
+        self.assertEqual(read_tokens(token_lines(("a", "b"))), ("a", "b"))
+        self.assertEqual(read_book(("a",), "1:\n0"), (1, (), ((0,),)))

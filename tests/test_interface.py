@@ -4,8 +4,14 @@ import importlib
 import inspect
 import unittest
 
-from tests.helpers import CUTS, EVEN, FREE, NEST, PAIRS, TASK
+from tests.helpers import CUTS, EVEN, FREE, FREE2, LONE, NEST, PAIRS, TASK
 
+LOW = (NEST, LONE, FREE2, "", "behind")
+NO_TEXTS = ((("s",), 0, ()),) + TASK[1:]
+NOTHING = (("list", ("of", 0), 1, 2),)
+STAR = ("star", ("letter", "a"))
+MOST = ("most", (0, 0), ((0, 0, 0, 2), (0, 1, 0, 1)))
+SHORT = (PAIRS, CUTS, FREE, "", "healed")
 ROAD = (2, ((0, "a", 0, 1), (0, "b", 1, 0), (1, "b", 0, 3), (1, "b", 1, 1)))
 
 # For each file: each function with its parameters, and values for them with the result.
@@ -188,6 +194,75 @@ INTERFACE = {
         ("rank_pair", {"task": TASK, "writer": EVEN, "budget": 1, "tape": (3, 2), "tree": (0,)}, 3),
     ),
     "firsttrees": (("own_tape", {"task": TASK, "writer": EVEN, "budget": 1, "k": 0}, (2, 3)),),
+    "meanlengths": (("mean_length", {"task": TASK, "writer": EVEN, "budget": 1}, (1, 5)),),
+    "besttapes": (
+        (
+            "likeliest",
+            {"task": TASK, "writer": EVEN, "budget": 0},
+            ((), 1, ((0, 0, 0, 0, 0, 0, 1), (1, 0, 0, 1, 0, 0, 1))),
+        ),
+    ),
+    "ceilings": (("judge_likeliest", {"task": TASK, "writer": EVEN, "budget": 0, "answer": ()}, False),),
+    "setmachines": (
+        (
+            "machine_of",
+            {"task": (NEST, ("ab",), (1, (0,), ((0,),)), "", "behind"), "question": "one"},
+            ((2, ((0, "a", 1, 1), (1, "b", 0, 1))), ()),
+        ),
+    ),
+    "spelledall": (("spelled_all", {"task": NO_TEXTS}, ("all", ())),),
+    "onerow": (("one_row", {"task": NO_TEXTS}, ("one", ())),),
+    "sparing": (("needless", {"task": NO_TEXTS, "drop": (0,)}, ("needless", ())),),
+    "carelessrows": (
+        ("careless_choices", {"task": LOW, "row": (0,)}, (0, 1)),
+        ("careless", {"task": NO_TEXTS}, ("lost", (), ())),
+    ),
+    "lostrows": (("lost_within", {"task": LOW, "most": 3}, (0,)),),
+    "longestrows": (("longest", {"task": SHORT}, MOST),),
+    "judges": (("judge", {"task": SHORT, "question": "longest", "answer": MOST}, True),),
+    "weightrows": (("lets_weights", {"thing": (0, 2)}, 2),),
+    "couples": (
+        ("couple", {"target": (3, 1), "draft": (1, 1), "number": 6}, (1, 0)),
+        ("kept", {"target": (3, 1), "draft": (1, 1)}, 6),
+    ),
+    "meankept": (("mean_kept", {"task": TASK, "writer": EVEN, "budget": 1, "draft": EVEN}, (1, 2)),),
+    "cutweights": (
+        ("cut_share", {"task": TASK, "writer": EVEN, "budget": 1, "row": (2,)}, (1, 2)),
+        ("cut_same", {"task": TASK, "writer": EVEN, "budget": 1}, ("unlike", ())),
+    ),
+    "distances": (("distance", {"task": TASK, "writer": EVEN, "budget": 1}, (3, 10)),),
+    "sheets": (
+        ("lets_sheet", {"thing": (("none",),)}, 1),
+        ("first_signs", {"sheet": (("truth",),), "k": 0}, ("f", "t")),
+    ),
+    "sheetgrammars": (("form_grammar", {"sheet": NOTHING}, (("n0",), 0, ())),),
+    "formvalues": (
+        ("fits", {"sheet": (("none",),), "thing": None}, True),
+        ("count_values", {"sheet": (("whole", 1),)}, 19),
+    ),
+    "valuetexts": (
+        ("value_text", {"sheet": (("list", ("none",), 0, 2),), "value": [None]}, "[null]"),
+        ("text_value", {"sheet": (("list", ("none",), 0, 2),), "text": "[null]"}, [None]),
+    ),
+    "patterns": (
+        ("lets_pattern", {"thing": STAR}, 2),
+        ("matches", {"pattern": STAR, "text": "aa"}, True),
+    ),
+    "patternmachines": (
+        ("pattern_machine", {"pattern": STAR}, (1, (0,), ((0, "a", 0),))),
+        ("first_parted", {"pattern": STAR, "other": ("letter", "a")}, ""),
+        ("pattern_grammar", {"pattern": STAR}, (("q0",), 0, ((0, ()), (0, ("a", 0))))),
+    ),
+    "grammartexts": (
+        ("grammar_lines", {"grammar": NEST}, "start s\ns = - | 'a' s 'b'"),
+        ("read_grammar", {"text": "start s\ns ="}, (("s",), 0, ())),
+    ),
+    "tokentexts": (
+        ("token_lines", {"tokens": CUTS}, "a\nb\nab"),
+        ("read_tokens", {"text": "a\nab"}, ("a", "ab")),
+        ("book_lines", {"tokens": CUTS, "book": FREE}, "1: 0\n0 0 0"),
+        ("read_book", {"tokens": CUTS, "text": "1: 0\n0 0 0"}, FREE),
+    ),
 }
 
 RUN_METHODS = {"row": (), "text": (), "left": (), "ended": (), "need": (), "choices": (), "looked": (), "tree": ()}
@@ -202,6 +277,27 @@ CLASSES = {
         "Run",
         ("guide", "budget"),
         dict(RUN_METHODS, rules=(), sure_text=(), sure_rules=(), back=("k",), fork=(), guide=()),
+    ),
+    "steering": (
+        "Steered",
+        ("task", "writer", "budget"),
+        {
+            "total": (), "weights": ("row",), "row_pairs": ("row",), "nth": ("k",), "rank": ("tape", "tree"), "own_tape": ("k",),
+            "mean_length": (),
+        },
+    ),
+    "drafts": (
+        "Drafted",
+        ("task", "writer", "budget", "draft"),
+        {"row": (), "ended": (), "total": (), "propose": ("number",)},
+    ),
+    "libraries": (
+        "Library",
+        (),
+        {
+            "put": ("kind", "name", "thing"), "thing_of": ("kind", "name"), "names_of": ("kind",), "drop": ("kind", "name"),
+            "rename": ("kind", "name", "other"), "undo": (), "redo": (),
+        },
     ),
 }
 
@@ -244,3 +340,13 @@ class InterfaceTest(unittest.TestCase):
         carry = importlib.import_module("stillends.carries").carry
         self.assertEqual(carry.__module__, "stillends.carries")
         self.assertEqual(tuple(inspect.signature(carry).parameters), ("run", "grammar", "tokens", "book"))
+
+    def test_play(self):
+        play = importlib.import_module("stillends.commands").play
+        self.assertEqual(play.__module__, "stillends.commands")
+        self.assertEqual(tuple(inspect.signature(play).parameters), ("library", "text"))
+
+    def test_nothing_is_left_out(self):
+        # The headings of the document name 137 functions, two of which stand in tests of their own, and 7 classes.
+        self.assertEqual(sum(len(functions) for functions in INTERFACE.values()) + 2, 137)
+        self.assertEqual(len(CLASSES), 7)
