@@ -76,9 +76,9 @@ class Best:
             for here, longer in waits:
                 some = self._products[here][self._bodies.befores[longer]][stop]
                 for there, others in ends.items():
-                    product = _greatest(some, others, many) if len(some) + len(others) - 2 >= many else 0
-                    if product > 0:
-                        self._offer(self._offers, (here, longer, there), product)
+                    # All lists still end below so many tokens.
+                    if len(some) + len(others) >= many + 2:
+                        self._offer(self._offers, (here, longer, there), _greatest(some, others, many))
 
     def _offer(self, offers, item, product):
         if offers.get(item, 0) < product:
@@ -199,13 +199,10 @@ class Best:
 
 
 def _greatest(some, others, many):
-    """The greatest product of numbers of two lists whose places, none of them 0, add up to many; 0 if there is none."""
-    first = max(1, many - len(others) + 1)
-    last = min(many, len(some)) - 1
-    if first > last:
-        return 0
-    behind = others[many - last : many - first + 1]
-    return max([one * other for one, other in zip(some[first : last + 1], behind[::-1])])
+    """The greatest product of two numbers, one of each list, whose places add up to many; both lists end before it."""
+    heads = some[many + 1 - len(others) :]
+    tails = others[many + 1 - len(some) :]
+    return max([one * other for one, other in zip(heads, tails[::-1])])
 
 
 def _power(total, times):

@@ -28,8 +28,7 @@ class Loops:
     A node is loud if it has a way that reads some letter. All those are that lead to another place.
     """
 
-    def __init__(self, grammar, items, nodes):
-        self._grammar = grammar
+    def __init__(self, items, nodes):
         self._items = items
         self._nodes = nodes
         # For each place a dict from the parts that lead around to it, and are loud, to what makes them so: a whole
@@ -37,7 +36,6 @@ class Loops:
         self._louds = [{} for _ in nodes.ends]
         for here in range(len(nodes.ends)):
             self._find_louds(here)
-        self._ways = None
 
     def _find_louds(self, here):
         parts = [part for part, ends in self._nodes.ends[here].items() if ends >> here & 1 and part > 0]
@@ -113,7 +111,8 @@ class Loops:
         plans = [self._plan(self._path(goals, around[0], self._nodes.ends), None)]
         plans.append(self._plan(around, (node, child)))
         plans.append([around[0]])
-        return tuple([self._grown(plan) for plan in plans])
+        ways = self._least_ways([node for plan in plans for node in plan if not isinstance(node, int)])
+        return tuple([self._grown(plan, ways) for plan in plans])
 
     def _path(self, starts, goal, ends):
         """A list of as few nodes as can be, each a child of the one before, from one of some nodes to the goal."""
@@ -199,12 +198,10 @@ class Loops:
             node = named[0]
         return ahead + [node] + behind[::-1]
 
-    def _grown(self, plan):
+    def _grown(self, plan, ways):
         """The tree of a plan, with least trees, by numbers of rules, of its nodes. TooMuch("tree")."""
-        if self._ways is None:
-            self._ways = self._least_ways()
         nodes = [node for node in plan if not isinstance(node, int)]
-        size = sum([self._ways.threes(here, part)[there][0] for here, part, there in nodes])
+        size = sum([ways.threes(here, part)[there][0] for here, part, there in nodes])
         if size + len([rule for rule in plan if isinstance(rule, int) and rule != HOLE]) > TREE_LIMIT:
             raise TooMuch("tree")
         tree = []
@@ -212,27 +209,28 @@ class Loops:
             if isinstance(told, int):
                 tree.append(told)
             else:
-                tree.extend(self._least_rules(told))
+                tree.extend(self._least_rules(told, ways))
         return tuple(tree)
 
-    def _least_ways(self):
-        """The ways of all nodes with trees of as few rules as can be: each rule has the price 1, and no arc has any."""
+    def _least_ways(self, nodes):
+        """The ways of nodes with trees of as few rules as can be: each rule has the price 1, and no arc has any."""
         count, arcs = self._items.machine
         machine = (count, tuple([arc[:3] + (0,) for arc in arcs]))
         meet = Meet(self._items.bodies, machine, 0, self._nodes.ends, None, 1)
-        meet.settle_all(list(range(count)))
+        for here, part, there in nodes:
+            meet.settle_part(here, part, 1 << there)
         return LeastWays(meet, machine)
 
-    def _least_rules(self, node):
+    def _least_rules(self, node, ways):
         """The list of the rules of the least trees of a node: of a name, or of all names of a beginning in sequence."""
         here, part, there = node
         bodies = self._items.bodies
         if part >= bodies.many:
-            return list(self._ways.way(here, part - bodies.many, there)[0])
+            return list(ways.way(here, part - bodies.many, there)[0])
         rules = []
-        for begin, symbol, end in self._ways.symbols_along(here, part, there)[::-1]:
+        for begin, symbol, end in ways.symbols_along(here, part, there)[::-1]:
             if is_name(symbol):
-                rules.extend(self._ways.way(begin, symbol, end)[0])
+                rules.extend(ways.way(begin, symbol, end)[0])
         return rules
 
 

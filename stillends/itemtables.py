@@ -13,9 +13,11 @@ class Nodes:
         # For each place dicts from parts to sets: of the places that nodes lead to, and of those that lead to it.
         self.ends = [{part: there for part, there in parts.items()} for parts in ends]
         self.begins = [{} for _ in ends]
-        for here, part, there in self.listed():
-            begins = self.begins[there]
-            begins[part] = begins.get(part, 0) | 1 << here
+        for here, parts in enumerate(ends):
+            for part, stops in parts.items():
+                for there in bits(stops):
+                    begins = self.begins[there]
+                    begins[part] = begins.get(part, 0) | 1 << here
 
     def take(self, node):
         """Takes out a node that is there."""
@@ -27,14 +29,6 @@ class Nodes:
         """Whether the node is there."""
         here, part, there = node
         return self.ends[here].get(part, 0) >> there & 1 == 1
-
-    def listed(self):
-        """The list of the nodes."""
-        found = []
-        for here, parts in enumerate(self.ends):
-            for part, ends in parts.items():
-                found.extend([(here, part, there) for there in bits(ends)])
-        return found
 
 
 class Items:
@@ -169,26 +163,32 @@ class Items:
         """
         finished = []
         unmet = Nodes(among.ends)
-        for root in among.listed():
-            path = []
-            if unmet.has(root):
-                unmet.take(root)
-                path.append(root)
-            while len(path) > 0:
-                child = self.first_child(path[-1], unmet)
-                if child is None:
-                    finished.append(path.pop())
-                else:
-                    unmet.take(child)
-                    path.append(child)
+        for here, parts in enumerate(among.ends):
+            for part, ends in parts.items():
+                for there in bits(ends):
+                    if unmet.has((here, part, there)):
+                        self._finish((here, part, there), unmet, finished)
         left = Nodes(among.ends)
-        rings = [self._ring(root, left, among) for root in finished[::-1]]
-        return [ring for ring in rings[::-1] if len(ring) > 0]
+        rings = []
+        for root in finished[::-1]:
+            if left.has(root):
+                rings.append(self._ring(root, left, among))
+        return rings[::-1]
+
+    def _finish(self, root, unmet, finished):
+        """Goes deep first from a node to all that are not met yet; each is finished behind those it leads to first."""
+        unmet.take(root)
+        path = [root]
+        while len(path) > 0:
+            child = self.first_child(path[-1], unmet)
+            if child is None:
+                finished.append(path.pop())
+            else:
+                unmet.take(child)
+                path.append(child)
 
     def _ring(self, root, left, among):
-        """The list of the nodes left that lead to a node, and it; they are taken out."""
-        if not left.has(root):
-            return []
+        """The list of a node and of the nodes left that lead to it; they are taken out."""
         left.take(root)
         ring = [root]
         due = [root]

@@ -107,25 +107,28 @@ def _ask_name(name, word):
 
 
 def _ask_thing(kind, thing):
-    try:
-        is_thing = _is_thing(kind, thing)
-    except InvalidPaper:
-        is_thing = False
-    if not is_thing:
+    if kind in ("book", "writer") and not is_tuple_of(thing, 2):
         raise NotUsable("thing")
+    try:
+        _let(kind, thing)
+    except InvalidPaper:
+        raise NotUsable("thing") from None
 
 
-def _is_thing(kind, thing):
-    """Whether thing may be of the kind; or InvalidPaper."""
+def _let(kind, thing):
+    """InvalidPaper if thing, a pair where that is needed, is not of the kind."""
     if kind == "grammar":
-        return lets_grammar(thing) >= 0
-    if kind == "tokens":
-        return lets_tokens(thing) > 0
-    if kind == "sheet":
-        return lets_sheet(thing) > 0
-    if kind == "task":
-        return lets_task(thing) > 0
-    if not is_tuple_of(thing, 2):
-        return False
-    tokens, paper = thing
-    return lets_tokens(tokens) > 0 and (lets_book(tokens, paper) if kind == "book" else lets_writer(tokens, paper)) > 0
+        lets_grammar(thing)
+    elif kind == "tokens":
+        lets_tokens(thing)
+    elif kind == "sheet":
+        lets_sheet(thing)
+    elif kind == "task":
+        lets_task(thing)
+    else:
+        tokens, paper = thing
+        lets_tokens(tokens)
+        if kind == "book":
+            lets_book(tokens, paper)
+        else:
+            lets_writer(tokens, paper)

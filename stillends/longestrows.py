@@ -18,7 +18,7 @@ def longest(task):
     whole = items.bodies.part_of(start)
     nodes = Nodes(items.all_below([(0, whole, goals)]))
     rings = items.rings(nodes)
-    loops = Loops(task[0], items, nodes)
+    loops = Loops(items, nodes)
     gain = loops.first_gain(rings)
     if gain is not None:
         return ("endless", loops.trees(gain, [(0, whole, there) for there in bits(goals)]))

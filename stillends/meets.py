@@ -91,14 +91,17 @@ class Meet:
 
         None if it leads to none.
         """
+        return self.settle_part(here, self.bodies.part_of(name), goals)
+
+    def settle_part(self, here, part, goals):
+        """What settle tells, of any part."""
         self.begin_at(here)
-        part = self.bodies.part_of(name)
         while self._ends[here].get(part, 0) & goals == 0:
             if len(self._queue) == 0:
                 return None
             self._settle_next()
-        three, ends = self._threes[here][part][-1]
-        return (three, bits(ends & goals)[0])
+        met = [(three, ends & goals) for three, ends in self._threes[here][part] if ends & goals > 0]
+        return (met[0][0], bits(met[0][1])[0])
 
     def _offer(self, three, here, part, ends):
         """Puts ends that are not settled into the queue."""

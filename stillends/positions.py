@@ -90,11 +90,11 @@ class Positions:
 
     def tokens_between(self, position, other, price):
         """The list of the tokens that are finished by a way of a move, with this price, to the other position."""
-        rule, dot, _, place = position
-        _, behind, _, there = other
-        symbol = self._grammar[2][rule][1][dot]
-        if price == 0 or behind == 0:
+        if price == 0:
             return []
+        rule, dot, _, place = position
+        there = other[3]
+        symbol = self._grammar[2][rule][1][dot]
         arcs = [(place, symbol, there)]
         if is_name(symbol):
             arcs = paid_arcs(self._grammar, self._machine, place, symbol, 1 << there, price)

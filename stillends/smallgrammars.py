@@ -1,8 +1,7 @@
 """Grammars with few names and rules, put together from bodies of any length."""
 
-BODY_LIMIT = 12
-NAME_LIMIT = 60
-RULE_LIMIT = 400
+from stillends.grammars import BODY_LIMIT, is_name
+from stillends.limits import NAME_LIMIT, RULE_LIMIT
 
 
 def small_grammar(bodies):
@@ -54,7 +53,7 @@ def _places(rules):
     for head, own in rules.items():
         for at, body in enumerate(own):
             for symbol in body:
-                if isinstance(symbol, int):
+                if is_name(symbol):
                     found.setdefault(symbol, []).append((head, at))
     return found
 

@@ -12,6 +12,7 @@ from tests.chances import (
 )
 from tests.helpers import BAD_SHORTS, CUTS, EVEN, FREE, FREE2, NEST, TASK, Case, rows_upto
 from tests.proofs import takes_likeliest
+from tests.test_spelledall import DEEP_TREE
 from tests.test_trees import ODD_ONES, RING
 
 ENDLESS = (1, ((1, 0, 0, 0),), ((0, 0, 0),))
@@ -65,6 +66,56 @@ class LikeliestTest(Case):
         for task in LOST_TASKS:
             self.same(likeliest(task, EVEN, 3)[:2], (None, 0))
         self.same(likeliest(TASK, ENDLESS, 3)[:2], (None, 0))
+
+    def test_rows_by_ways_that_are_alike(self):
+        # Behind a and behind b the same letters come, but the book takes rows with b alone.
+        grammar = (("s", "t"), 0, ((0, (1, "c", "d")), (1, ("a",)), (1, ("b",))))
+        table = ((1, 2, -1, -1, -1), (-1, -1, 3, 3, -1), (-1, -1, 4, 4, -1), (-1, -1, -1, -1, 3), (-1, -1, -1, -1, 4))
+        for tokens in (("a", "b", "cd", "c", "d"), ("a", "b", "cd", "x", "d"), ("a", "b", "x", "c", "d")):
+            even = (6, ((1,) * 6,), ((0,) * 5,))
+            task = (grammar, tokens, (5, (4,), table), "", "behind")
+            self.check(task, even, 3)
+            self.same(likeliest(task, even, 3)[0][0], 1)
+
+    def test_rows_by_less_likely_beginnings(self):
+        # b is likelier than a, but c is likelier behind a.
+        grammar = (("s", "t"), 0, ((0, (1, "c")), (1, ("a",)), (1, ("b",))))
+        task = (grammar, ("a", "b", "c"), (4, (3,), ((1, 2, -1), (-1, -1, 3), (-1, -1, 3), (-1, -1, -1))), "", "behind")
+        writer = (10, ((2, 5, 3, 0), (0, 0, 9, 1), (0, 0, 1, 9), (0, 0, 0, 10)), ((1, 2, 3), (3, 3, 3), (3, 3, 3), (3, 3, 3)))
+        self.same(likeliest(task, writer, 2)[:2], ((0, 2), 180))
+        self.check(task, writer, 2)
+
+    def test_rows_of_parts_with_any_number_of_tokens(self):
+        # Three tokens in all: of some letters a and some letters b, and of some others.
+        grammar = (("s", "t", "u"), 0, ((0, (1, 2)), (1, ("a",)), (1, ("a", "a")), (2, ("b",)), (2, ("b", "b"))))
+        book = (4, (3,), ((1, 1), (2, 2), (3, 3), (-1, -1)))
+        task = (grammar, ("a", "b"), book, "", "behind")
+        for weights, row in (((5, 1, 1), (0, 0, 1)), ((1, 5, 1), (0, 1, 1))):
+            writer = (7, (weights,), ((0, 0),))
+            answer = likeliest(task, writer, 4)
+            self.same(answer[:2], (row, 25 * 7))
+            self.same(judge_likeliest(task, writer, 4, answer), True)
+            for ceilings in (answer[2], answer[2][::-1]):
+                # The entry for all three tokens has to cover both ways.
+                self.assertIn((0, 0, 0, 3, 0, 3, 25), ceilings)
+                lesser = tuple(entry[:6] + (24,) if entry == (0, 0, 0, 3, 0, 3, 25) else entry for entry in ceilings)
+                self.same(judge_likeliest(task, writer, 4, (row, 25 * 7, lesser)), False)
+
+    def test_no_entry_is_in_vain(self):
+        chance = random.Random(833)
+        for _ in range(150):
+            task = rich_task(chance, rich_grammar(chance), most=3)
+            writer = rich_writer(chance, len(task[1]))
+            row, tapes, ceilings = likeliest(task, writer, 3)
+            for k in chance.sample(range(len(ceilings)), min(3, len(ceilings))):
+                less = ceilings[:k] + (ceilings[k][:6] + (ceilings[k][6] - 1,),) + ceilings[k + 1 :]
+                self.same(judge_likeliest(task, writer, 3, (row, tapes, less)), False)
+                self.same(judge_likeliest(task, writer, 3, (row, tapes, ceilings[:k] + ceilings[k + 1 :])), False)
+
+    def test_large_trees_without_letters(self):
+        names, _, rules = DEEP_TREE
+        task = ((names, 0, ((0, (1, "a", 1)),) + rules[1:]), ("a",), (1, (0,), ((0,),)), "", "behind")
+        self.same(likeliest(task, (2, ((1, 1),), ((0,),)), 3)[:2], ((0,), 4))
 
     def test_example_and_edges(self):
         self.same(likeliest(TASK, EVEN, 1)[:2], ((), 4))

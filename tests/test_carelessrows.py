@@ -130,6 +130,22 @@ class CarelessTest(Case):
                 self.check((NEST, LONE, FREE2, begun, mode))
         self.same(careless((NEST, ("a", "abb"), FREE2, "", "behind"))[:2], ("lost", (0, 0)))
 
+    def test_lost_behind_names(self):
+        # Behind t, of some tokens, d would end; but with b, that is let, c has to come, for which there is no token.
+        plain = (("a", "b", "d"), (2, (1,), ((1, -1, -1), (1, 1, 1))), "", "behind")
+        doubled = (("a", "b", "d", "aa"), (2, (1,), ((1, -1, -1, 1), (1, 1, 1, 1))), "", "behind")
+        for letters, rest, many in ((1, plain, 2), (1, doubled, 2), (2, plain, 3), (2, doubled, 2), (3, plain, 4), (3, doubled, 3)):
+            grammar = (("s", "t", "u"), 0, ((0, (1, 2)), (1, ("a",) * letters), (2, ("b", "c")), (2, ("d",))))
+            answer = careless((grammar,) + rest)
+            self.same((answer[0], len(answer[1]), need((grammar,) + rest, answer[1])), ("lost", many, None))
+            self.same(self.check((grammar,) + rest, 4), ("lost", many))
+
+    def test_names_without_ways(self):
+        # No token holds c, so that t has no way from any place.
+        grammar = (("s", "t"), 0, ((0, ("a", 1)), (0, ("d",)), (1, ("c",))))
+        task = (grammar, ("a", "d"), FREE2, "", "behind")
+        self.same((careless(task)[:2], self.check(task)), (("lost", (0,)), ("lost", 1)))
+
     def test_just_60_tokens_and_61(self):
         # Behind so many tokens only a is left, and the book ends nowhere.
         for many, found in ((59, ("lost", 60)), (60, None)):

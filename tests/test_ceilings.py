@@ -47,6 +47,8 @@ class JudgeLikeliestTest(Case):
             self.same(judge_likeliest(TASK, EVEN, 1, (row, tapes, ceilings)), False)
         for row, tapes in (((False,), 4), ("", 4), (0, 4), ((), "4"), ((), None), ((), [4]), ((3,), 4), ((-1,), 4)):
             self.same(judge_likeliest(TASK, EVEN, 1, (row, tapes, ceilings)), False)
+        for many in (60, 61, 100):
+            self.same(judge_likeliest(TASK, EVEN, 1, ((0,) * many, 1, ceilings)), False)
         nothing = likeliest(TASK, ENDLESS, 1)[2]
         self.same(judge_likeliest(TASK, ENDLESS, 1, (None, 0, nothing)), True)
         for row, tapes in ((None, False), (None, 1), ((), 0), ((2,), 0)):

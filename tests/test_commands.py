@@ -18,7 +18,7 @@ def some_house():
     house = Library()
     tasks = {
         "t": TASK, "low": LOW, "two": (DOUBLE,) + TASK[1:], "ring": (RING,) + TASK[1:], "short": (PAIRS, CUTS, FREE, "", "healed"),
-        "long": (pairs_grammar(7), ("a",), ONE, "", "behind"), "lost": (NEST, CUTS, FREE, "b", "behind"), "a": (NEST, CUTS, FREE, "a", "healed"),
+        "long": (pairs_grammar(7), ("a",), ONE, "", "behind"), "many": (pairs_grammar(5), ("a",), ONE, "", "behind"), "lost": (NEST, CUTS, FREE, "b", "behind"), "a": (NEST, CUTS, FREE, "a", "healed"),
     }
     for name, task in tasks.items():
         house.put("task", name, task)
@@ -62,7 +62,7 @@ class PlayTest(Case):
         self.check(
             some_house(), ("spelled t", "all"), ("spelled low", "none"), ("one t", "two"), ("one low", "one"), ("careless t", "never"),
             ("careless low", "lost 1"), ("careless lost", "lost 0"), ("careless two", "refused NotOneWay"), ("longest t", "endless"),
-            ("longest short", "most 2"), ("longest lost", "none"), ("longest long", "refused TooMuch"), ("spelled u", "refused NoSuch"),
+            ("longest short", "most 2"), ("longest many", "most 32"), ("longest lost", "none"), ("longest long", "refused TooMuch"), ("spelled u", "refused NoSuch"),
             ("one u", "refused NoSuch"), ("careless u", "refused NoSuch"), ("longest u", "refused NoSuch"),
         )
 
@@ -107,7 +107,7 @@ class PlayTest(Case):
 
     def test_unknown(self):
         lines = (
-            "", " ", "need", "need t", "need t 0 0", "need t  0", " need t 0", "need t 0 ", "Need t 0", "need t 00", "need t 01", "need t -1", "need t +1",
+            "", " ", "need  0", "need t ", "drop  t", "drop task ", "spelled ", "rename task t ", "need", "need t", "need t 0 0", "need t  0", " need t 0", "need t 0 ", "Need t 0", "need t 00", "need t 01", "need t -1", "need t +1",
             "need t 0,", "need t ,0", "need t 0,,0", "need t 0,-1", "need t --", "need t a", "need t 0.0", "need t " + "9" * 61, "mask t 0", "mask t - 0",
             "mask t -1 0", "mask t 00 0", "mask t 0 0 0", "good t", "good t x", "run t 2", "run t 2 -2", "run t 2 -1,-", "run t -1 -", "run t 2 -01", "run t 2 0,-1,",
             "spelled", "spelled t t", "one", "one t -", "careless", "careless t 0", "longest", "longest t t", "total t w", "total t w -", "total t w 1 1", "total t 1",

@@ -128,6 +128,7 @@ class CountValuesTest(Case):
 
     def test_forms_that_come_to_themselves(self):
         for sheet, many in (
+            ((("list", ("or", (("of", 0),)), 1, 1),), 0), ((("list", ("or", (("of", 0), NONE)), 1, 1),), None),
             ((("list", ("of", 0), 0, 0),), 1), ((("list", ("of", 0), 0, 1),), None), ((("list", ("of", 0), 1, 1),), 0),
             ((("or", (NONE, ("list", ("of", 0), 1, 1))),), None), ((("or", (NONE, ("record", (("a", ("of", 0), True),)))),), None),
             ((("record", (("a", ("of", 0), True),)),), 0), ((("record", (("a", ("of", 0), False),)),), None),

@@ -13,7 +13,7 @@ LETTERS = tuple(chr(code) for code in range(32, 127) if chr(code) != "%")
 NO_LINES = (
     "", " ", "s", "s ", " s =", "s= -", "s =-", "s  = -", "s = ", "s =  -", "s = - ", "s == -", "= -", "S = -", "1s = -", "s_ = -", "s = |", "s = | -",
     "s = - |", "s = - | | -", "s = -|-", "s = - -", "s = - s", "s = s -", "s = S", "s = 'a", "s = a'", "s = 'ab'", "s = ''", "s = '", "s = ' '' '",
-    "s = 'a''b'", "s = 'a' 'b", "s = 'a'  'b'", "s = 'a'b", "s = \"a\"", "s = 'a' |'b'", "s = abcdefghijklm", "abcdefghijklm = -", "'s' = -", "- = -",
+    "s = 'a''b'", "s = 'a' 'b", "s = 'a'  'b'", "s = 'a'b", "s = \"a\"", "s = 'a' |'b'", "s = 'a'|'b'", "s = 'a'x'b'", "s = ab'", "s = 'ab", "s = abcdefghijklm", "abcdefghijklm = -", "'s' = -", "- = -",
     "start s", "s = s1 S1", "s = '%'", "s = 0", "s = =", "| = -",
 )
 

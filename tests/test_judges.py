@@ -3,6 +3,7 @@
 import random
 
 from stillends.carelessrows import careless, careless_choices
+from stillends.closedlists import items_of
 from stillends.errors import TooMuch
 from stillends.floors import cut_table
 from stillends.judges import judge
@@ -13,9 +14,10 @@ from stillends.predicting import reads_one_way
 from stillends.setmachines import machine_of
 from stillends.sparing import needless
 from stillends.spelledall import spelled_all
+from stillends.spellers import priced
 from tests.chances import DOUBLE, LOST_TASKS, NO_TEXTS, one_way_grammar, rich_grammar, rich_task
 from tests.helpers import CUTS, DEEP, FREE, FREE2, LONE, NEST, ODD, PAIRS, TASK, Case
-from tests.proofs import bent, takes_careless, takes_longest, takes_texts
+from tests.proofs import PlainPositions, bent, takes_careless, takes_longest, takes_texts
 from tests.test_longestrows import finite_grammar, pairs_grammar
 from tests.test_setmachines import NO_QUESTIONS, ONLY_A, OVER, OVER_SPARED
 from tests.test_spelledall import many_sets
@@ -106,6 +108,21 @@ class JudgeTest(Case):
         self.same(judge(loop, "longest", ("endless", ((-1,), (1, -1), (0,)))), True)
         self.same(judge(loop[:2] + ((2, (1,), ((1, 1), (-1, -1))), "", "behind"), "longest", ("endless", good)), False)
 
+    def test_trees_with_holes(self):
+        # Two holes, holes of other names, and rules of other names than that which is due.
+        double = (DOUBLE,) + TASK[1:]
+        for inner, taken in (((2, -1, 0), True), ((2, 0, -1), True), ((2, -1, -1), False), ((2, 2, -1, -1, 0), False), ((0,), False)):
+            self.same(judge(double, "longest", ("endless", ((-1,), inner, (0,)))), taken)
+            self.same(takes_longest(double, ("endless", ((-1,), inner, (0,)))), taken)
+        grammar = (("s", "t"), 0, ((0, ("a", 1)), (0, ("c",)), (1, ("b", 0))))
+        task = (grammar, ("a", "b", "c"), FREE, "", "behind")
+        for outer, inner, tree, taken in (
+            ((-1,), (0, 2, -1), (1,), True), ((0, 2, -1), (0, 2, -1), (1,), True), ((0, -1), (2, 0, -1), (2, 1), True), ((2, -1), (0, 2, -1), (1,), False),
+            ((-1,), (2, -1), (1,), False), ((-1,), (2, 0, -1), (2, 1), False), ((0, -1), (0, 2, -1), (1,), False), ((0, -1), (2, -1), (2, 1), False),
+        ):
+            self.same(judge(task, "longest", ("endless", (outer, inner, tree))), taken)
+            self.same(takes_longest(task, ("endless", (outer, inner, tree))), taken)
+
     def test_large_trees_are_let_in(self):
         for many in (400, 5000):
             outer, inner = (1,) * many + (-1,), (1,) * many + (-1,)
@@ -160,6 +177,79 @@ class JudgeTest(Case):
         more = (0, 0, (), 1)
         self.same(judge(TASK, "careless", (word, positions + (more,))), takes(TASK, "careless", (word, positions + (more,))))
 
+    def test_items_with_barred_ones(self):
+        # What has ways is closed, but it does not show what is not so.
+        for task, question, word in ((LOW, "spelled", "all"), (TASK, "one", "one"), (TASK, ("needless", (1,)), "needless")):
+            items = items_of(NEST, machine_of(task, question)[0])
+            self.same((answer_to(task, question)[0] == word, judge(task, question, (word, items))), (False, False))
+        self.same(judge(TASK, "longest", ("none", items_of(NEST, priced(*TASK[1:])))), False)
+        for task in LOST_TASKS:
+            self.same(judge(task, "longest", ("none", items_of(task[0], priced(*task[1:])))), True)
+        nowhere = (NEST, ("a",), ONE, "a", "healed")
+        self.same(judge(nowhere, "longest", ("none", items_of(NEST, priced(*nowhere[1:])))), True)
+        self.same(judge((ONLY_A,) + nowhere[1:], "longest", ("none", items_of(ONLY_A, priced(*nowhere[1:])))), False)
+
+    def test_two_rows(self):
+        word, text, row, other, table = one_row(TASK)
+        self.same((text, judge(TASK, "one", (word, text, other, row, table))), ("ab", True))
+        for one, two in ((row, row), (other, other), (row, (0,)), ((0,), row), (row, (0, 2)), ((0, True), (2,)), ((2,), (False, 1)), (row, list(other))):
+            self.same(judge(TASK, "one", (word, text, one, two, table)), False)
+        task = (ONLY_A, ("a", "aa"), FREE2, "", "behind")
+        word, text, row, other, table = one_row(task)
+        for wrong in ((2,), (0, 2), (-1,)):
+            self.same(judge(task, "one", (word, text, row, wrong, table)), False)
+            self.same(judge(task, "one", (word, text, wrong, row, table)), False)
+        # One that the book does not take spells the text, too.
+        task = (ONLY_A, ("a", "aa", "aaa"), (3, (2,), ((1, 2, 2), (-1, 2, -1), (-1, -1, -1))), "", "behind")
+        word, text, row, other, table = one_row(task)
+        self.same((text, sorted((row, other)), judge(task, "one", (word, text, row, other, table))), ("aaa", [(0, 1), (2,)], True))
+        for wrong in ((0, 0, 0), (1, 0)):
+            for one, two in ((wrong, row), (row, wrong), (wrong, other)):
+                self.same(judge(task, "one", (word, text, one, two, table)), False)
+
+    def test_positions_with_barred_ones(self):
+        plain, costs = PlainPositions(LOW), {}
+        due = [(0, position) for position in plain.firsts()]
+        while due:
+            cost, position = due.pop()
+            if costs.get(position, cost + 1) > cost:
+                costs[position] = cost
+                due.extend((cost + price, there) for price, there in plain.moves(position))
+        self.same(judge(LOW, "careless", ("never", tuple(costs))), False)
+        barred = [position for position in costs if plain.is_barred(position)]
+        self.same({costs[position] for position in barred} >= {1}, True)
+        whole = tuple(position + (cost,) for position, cost in costs.items())
+        # With all positions the row with one token is shown to have the fewest, but none with more.
+        for row, taken in (((0,), True), ((0, 0), False), ((0, 1), False), ((1,), False), ((0, 0, 0), False)):
+            self.same((judge(LOW, "careless", ("lost", row, whole)), takes(LOW, "careless", ("lost", row, whole))), (taken, taken))
+        for told in ODD + (0, "", (), whole[0][:4], whole[0] + (0,), list(whole[0]), whole[0][:4] + (True,), whole[0][:4] + (None,), DEEP):
+            self.same(judge(LOW, "careless", ("lost", (0,), whole + (told,))), False)
+        for k, told in enumerate(whole):
+            self.same(judge(LOW, "careless", ("lost", (0,), whole + (told[:4] + (9,),))), False)
+            greater = whole[:k] + (told[:4] + (told[4] + 1,),) + whole[k + 1 :]
+            self.same(judge(LOW, "careless", ("lost", (0,), greater)), takes(LOW, "careless", ("lost", (0,), greater)))
+
+    def test_positions_of_useless_rules(self):
+        grammar = (("s", "u"), 0, NEST[2] + ((1, ("c",)),))
+        task = (grammar,) + TASK[1:]
+        word, positions = careless(task)
+        self.same((word, judge(task, "careless", (word, positions))), ("never", True))
+        for position in ((2, 0, (0,), 0), (2, 1, (0,), 0), (3, 0, (0,), 0), (-1, 0, (0,), 0)):
+            self.same(judge(task, "careless", (word, positions + (position,))), False)
+
+    def test_more_items_than_needed(self):
+        # Items that no good row needs, but that have ways: their numbers count, and what they are put together of.
+        grammar = (("s", "t", "u"), 0, ((0, (1,)), (1, ("a",)), (2, (1, 1)), (2, ("b",))))
+        task = (grammar, CUTS, FREE, "", "behind")
+        word, row, table = longest(task)
+        self.same((row, judge(task, "longest", (word, row, table))), ((0,), True))
+        for more, taken in (
+            (((0, 2, 0, 2),), True), (((0, 2, 0, 1),), False), (((0, 2, 0, 9),), True), (((1, 2, 1, 0),), True), (((0, 2, 1, 0),), False),
+            (((0, 2, 1, 1), (0, 1, 1, 0)), True), (((0, 2, 1, 0), (0, 1, 1, 0)), False), (((0, 1, 1, 0),), True),
+        ):
+            self.same(takes_longest(task, (word, row, table + more)), taken)
+            self.same(judge(task, "longest", (word, row, table + more)), taken)
+
     def test_integers_below_0_are_let_in(self):
         word, row, table = careless(LOW)
         less = tuple(told[:4] + (told[4] - 5,) for told in table)
@@ -182,6 +272,12 @@ class JudgeTest(Case):
             if question not in ("careless", "longest"):
                 self.refuses("NotUsable('question')", judge, TASK, question, None)
                 self.refuses("NotUsable('question')", judge, OVER, question, None)
+
+    def test_questions_hang_on_the_tokens(self):
+        self.refuses("NotUsable('question')", judge, LOW, ("needless", (2,)), None)
+        self.same(judge(LOW, ("needless", (1,)), needless(LOW, (1,))), True)
+        self.refuses("NotUsable('question')", machine_of, LOW, ("needless", (2,)))
+        self.refuses("NotUsable('drop')", needless, LOW, (2,))
 
     def test_errors(self):
         for answer in (None, ("all", ()), ("one", ())):

@@ -118,6 +118,42 @@ class LongestTest(Case):
         beside = (("s", "t"), 0, ((0, (1, 0)), (0, ("b",)), (1, ()), (1, ("a",))))
         self.same(self.check((beside,) + TASK[1:], 4), "endless")
 
+    def test_loops_on_the_left_and_beside_what_can_be_empty(self):
+        for rules in (
+            ((0, (0, 1)), (0, ("b",)), (1, ("a",))),
+            ((0, (0, 1)), (0, ("b",)), (1, ()), (1, ("a",))),
+            ((0, ()), (0, (1, 0)), (1, (2, 3)), (2, ()), (2, ("a",)), (3, ()), (3, ("b",))),
+            ((0, ()), (0, (0, 1)), (1, (2, 3)), (2, ()), (3, ()), (3, (2, 2)), (3, (2, 4, 2)), (4, ("a",)), (4, ("b",))),
+            ((0, ()), (0, (1, 0, 1)), (1, (2, 3, 2)), (2, ()), (3, ()), (3, (4, 2)), (4, ()), (4, (2, 4)), (4, (4, "a"))),
+            ((0, ()), (0, ("b", 0, 1)), (1, (2,)), (2, (1,)), (2, ("a",))),
+        ):
+            many = 1 + max(head for head, _ in rules)
+            grammar = (tuple(f"n{k}" for k in range(many)), 0, rules)
+            for begun in ("", "a", "ba"):
+                for mode in MODES:
+                    self.check((grammar, CUTS, FREE, begun, mode), 4)
+            self.same(longest((grammar,) + TASK[1:])[0], "endless")
+
+    def test_places_that_names_do_not_begin_at(self):
+        # From the first place u does not lead on, though t leads there with the most tokens; but d does.
+        rules = ((0, (1, 2)), (0, (1, "d")), (1, ("a",)), (1, ("c", "c", "c")), (2, ("b", "b")))
+        book = (4, (2,), ((1, -1, 0, 2), (-1, 3, -1, -1), (-1, -1, -1, -1), (-1, 2, -1, -1)))
+        task = ((("s", "t", "u"), 0, rules), ("a", "b", "c", "d"), book, "", "behind")
+        self.same((longest(task)[:2], self.check(task, 4)), (("most", (2, 2, 2, 3)), "most"))
+
+    def test_trees_of_4000_rules_and_of_4001(self):
+        # Name 2 has one rule, 3 has 13, 4 has 157, 5 has 1,885; the empty tree of name 1 has 3,999 or 4,000.
+        inner = ((2, ()), (3, (2,) * 12), (4, (3,) * 12), (5, (4,) * 12))
+        for more, told in ((5, "endless"), (6, None)):
+            rules = ((0, ("a", 1, 0)), (0, ("b",)), (1, (5, 5, 4, 6))) + inner + ((6, (3,) * 5 + (2,) * more),)
+            task = ((tuple(f"n{k}" for k in range(7)), 0, rules), ("a", "b"), FREE2, "", "behind")
+            if told:
+                word, (outer, loop, tree) = longest(task)
+                self.same((word, outer, len(loop), tree), ("endless", (-1,), 4001, (1,)))
+                self.same(judge(task, "longest", (word, (outer, loop, tree))), True)
+            else:
+                self.refuses("TooMuch('tree')", longest, task)
+
     def test_endless_where_it_must_be_told(self):
         chance = random.Random(961)
         told = 0

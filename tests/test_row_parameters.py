@@ -1,10 +1,13 @@
 """[13]: what is a row hangs on how many tokens there are."""
 
+from stillends.carelessrows import careless_choices
+from stillends.cutweights import cut_share
 from stillends.endings import ending
 from stillends.masks import mask, settled
 from stillends.needing import need, needs
 from stillends.quickneeds import quick_need, quick_needs
 from stillends.refusals import judge_why_not, why_not
+from stillends.steering import Steered
 from stillends.stepweights import row_pairs, step_weights
 from stillends.surerules import sure_rules
 from stillends.suretexts import sure_text
@@ -15,7 +18,7 @@ from stillends.writers import even_writer
 from tests.chances import REGULAR
 from tests.helpers import Case
 
-BY_ROW = (need, needs, ending, settled, quick_need, quick_needs, is_good, letters_read)
+BY_ROW = (need, needs, ending, settled, quick_need, quick_needs, is_good, letters_read, careless_choices)
 BY_ROW_AND_LEFT = (mask, why_not, stood_at, sure_text, sure_rules)
 TOKENS = ("a", "b", "ab", "ba", "aa", "bb", "aab", "bba")
 
@@ -39,5 +42,8 @@ class RowParameterTest(Case):
                 self.check(many, call, (task,), 2)
             self.check(many, judge_why_not, (task,), 2, ())
             self.check(many, total, (task, writer), 2)
-            for call in (step_weights, row_pairs):
+            for call in (step_weights, row_pairs, cut_share):
                 self.check(many, call, (task, writer, 2))
+            steered = Steered(task, writer, 2)
+            self.check(many, steered.weights, ())
+            self.check(many, steered.row_pairs, ())

@@ -98,10 +98,13 @@ class FormGrammarTest(Case):
             return ("record", tuple((key, form, must) for key, form in zip(keys(first, many), forms)))
 
         records = [record(6 * k, 6, k > 1) for k in range(4)]
+        chance = random.Random(1071)
+        some = [tuple(sorted(chance.sample(FORM_LETTERS, 60))) for _ in range(7)]
         nested = ("list", ("or", (NONE, ("list", ("text", FORM_LETTERS[:40], 0, 3), 0, None))), 0, None)
         for sheet in (
             tuple(records) + (("list", ("of", 0), 1, None), nested, ("or", (TRUTH, ("of", 1))), ("of", 2)),
             tuple(("or", (("text", FORM_LETTERS[3 * k :], 1, 2), ("list", ("of", (k + 1) % 8), 0, None))) for k in range(8)),
+            (("list", ("of", 1), 0, None),) + tuple(("or", (("text", some[k], 2, 3), ("list", ("of", (k + 2) % 8), 0, 2))) for k in range(7)),
             tuple(("list", ("or", (("one", tuple(sorted(keys(3 * k, 3)))), ("list", ("of", (k + 1) % 8), 0, 3))), 0, None) for k in range(8)),
         ):
             grammar = self.grammar_of(sheet)

@@ -17,7 +17,7 @@ EACH = (
     ("or", (("one", ("a",)), ("whole", 2), TRUTH, NONE, ("list", NONE, 0, 1), ("record", ()))),
 )
 WRONG = (
-    (), ("none", 0), ("truth", None), ("None",), (None,), (0,), ((),), "none", ["none"], (NONE,), ("nil",), ("of",),
+    (), ("none", 0), ("truth", None), ("None",), (None,), (0,), ((),), "none", ["none"], (NONE,), ("nil",), ("nil", ()), ("Record", ()), ("nil", 1), ("fields", ((),)), ("of",),
     ("one",), ("one", ()), ("one", ("a", "a")), ("one", ("b", "a")), ("one", ["a"]), ("one", ("",)), ("one", ("a" * 9,)),
     ("one", ('"',)), ("one", ("\\",)), ("one", ("a%",)), ("one", ("a\n",)), ("one", (1,)), ("one", ("a",), 0), ("one", "a"),
     ("one", tuple("abcdefghi")), ("one", (("a",),)),

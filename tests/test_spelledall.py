@@ -9,8 +9,8 @@ from stillends.listings import texts_upto
 from stillends.respells import rows_of
 from stillends.setmachines import machine_of
 from stillends.spelledall import spelled_all
-from tests.chances import LOST_TASKS, NO_TEXTS, REGULAR, known_tasks, rich_grammar, rich_task
-from tests.helpers import CUTS, FREE, FREE2, LONE, NEST, TASK, Case
+from tests.chances import LOST_TASKS, NO_FINALS, NO_TEXTS, known_tasks, rich_grammar, rich_task
+from tests.helpers import CUTS, FREE2, LONE, NEST, TASK, Case
 from tests.proofs import takes_texts
 from tests.test_setmachines import A_OR_B, ONLY_A
 from tests.test_trees import ODD_ONES, RING
@@ -71,6 +71,8 @@ class SpelledAllTest(Case):
         for task in LOST_TASKS:
             self.check(task, 6)
         self.same(spelled_all((NO_TEXTS,) + TASK[1:]), ("all", ()))
+        # The first state is barred, but no text leads to it.
+        self.same(spelled_all((NO_TEXTS, CUTS, NO_FINALS, "", "behind")), ("all", ()))
         self.check((ODD_ONES, LONE, FREE2, "", "behind"), 6)
 
     def test_texts_of_60_letters_and_of_61(self):

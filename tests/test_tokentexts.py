@@ -60,7 +60,7 @@ class BooksTest(Case):
         self.same(read_book(CUTS, "2: 0 1\n1 -1 0\n0 0 0"), (2, (0, 1), ((1, -1, 0), (0, 0, 0))))
 
     def test_form(self):
-        for line in ("", ":", " 1:", "1", "1 :", "1:0", "1: ", "1:  0", "1: 0 ", "1:: 0", "1: 0:", "a:", "1 0", "1: a", ": 0"):
+        for line in ("", ":", " 1:", "1", "10", "10 0", "1 :", "1:0", "1: ", "1:  0", "1: 0 ", "1:: 0", "1: 0:", "a:", "1 0", "1: a", ": 0"):
             self.refuses("InvalidText(0, 'form')", read_book, ("a",), line + "\n0")
             self.refuses("InvalidText(0, 'form')", read_book, ("a",), line)
         for line in ("", " ", " 0", "0 ", "0  0", "0:", "a", "0 a", "0,0"):
