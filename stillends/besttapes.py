@@ -35,19 +35,19 @@ class Best:
         self._writer = writer
         self._states = len(writer[1])
         self._most = most
-        many = self._ground.many * self._states
+        points = self._ground.many * self._states
         # For each point a dict from parts to dicts that have for each point led to the list of the products by
         # number of tokens, 0 if there is none.
-        self._products = [{} for _ in range(many)]
+        self._products = [{} for _ in range(points)]
         # In what sequence products were settled, by the point, the part, the point led to and the number of tokens.
         self._turns = {}
         # For each name and point a dict of True for the points and longer beginnings that go on with the name there.
         self._waits = {}
         # What is offered with the number of tokens that is settled now, and with the next one: greatest products.
-        self._offers = {(point, 0, point): 1 for point in range(many)}
+        self._offers = {(point, 0, point): 1 for point in range(points)}
         self._later = {}
-        for tokens_so_far in range(most + 1):
-            self._settle_all(tokens_so_far)
+        for many in range(most + 1):
+            self._settle_all(many)
 
     def _settle_all(self, many):
         """Settles all products with so many tokens."""
@@ -61,7 +61,7 @@ class Best:
                 known.extend([0] * (many - len(known)))
                 known.append(-product)
                 self._turns[(here, part, there, many)] = len(self._turns)
-                found = self._found_with(item, -product, many)
+                found = self._found_with(item, -product)
                 for other in found:
                     if self._offers.get(other, 0) < -product:
                         self._offers[other] = -product
@@ -81,14 +81,15 @@ class Best:
                         self._offer(self._offers, (here, longer, there), _greatest(some, others, many))
 
     def _offer(self, offers, item, product):
+        """Notes a product of an item if it is the greatest one so far."""
         if offers.get(item, 0) < product:
             offers[item] = product
 
-    def _found_with(self, item, product, many):
+    def _found_with(self, item, product):
         """The items that come of one without more tokens; those that come with one more are offered for later."""
         here, part, there = item
         if part >= self._bodies.many:
-            return self._found_with_name(here, part - self._bodies.many, there, many)
+            return self._found_with_name(here, part - self._bodies.many, there)
         found = [(here, self._bodies.part_of(name), there) for name in self._bodies.ends[part]]
         place, state = divmod(there, self._states)
         for letter, longer in self._bodies.by_letter[part]:
@@ -105,7 +106,7 @@ class Best:
             found.extend([(here, longer, end) for end, products in ends.items() if products[0] > 0])
         return found
 
-    def _found_with_name(self, here, name, there, many):
+    def _found_with_name(self, here, name, there):
         """The items that come of a name without more tokens: those of beginnings that have none ahead of it."""
         found = []
         for waiting, longer in self._waits.get((name, here), {}):
